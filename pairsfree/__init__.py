@@ -1,0 +1,1 @@
+"""Pairs free: pairs of rows that are free of one another."""

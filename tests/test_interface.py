@@ -1,0 +1,56 @@
+"""The names of the interface: each is defined in its own file, with its own parameters."""
+
+import ast
+import importlib
+import inspect
+import unittest
+
+FUNCTIONS = {
+    "basics": {"is_integer": "value", "is_count": "value"},
+    "ratios": {"is_number": "value"},
+    "steps": {"steps": "size rows", "rank": "size rows", "zeros": "size rows"},
+}
+
+METHODS = {
+    "ratios": {"Ratio": {
+        "__init__": "self top bottom", "over": "self other", "unsigned": "self", "is_below": "self other",
+        "is_at_most": "self other", "total": "cls numbers", "__add__": "self other", "__radd__": "self other",
+        "__sub__": "self other", "__rsub__": "self other", "__mul__": "self other", "__rmul__": "self other",
+        "__neg__": "self", "__eq__": "self other", "__str__": "self", "__repr__": "self", "top": "self",
+        "bottom": "self", "sign": "self", "is_whole": "self"}},
+}
+
+
+def parameters(node):
+    return " ".join(part.arg for part in node.args.args)
+
+
+def parts_of(body, kind):
+    return {node.name: node for node in body if isinstance(node, kind)}
+
+
+def body_of(file):
+    return ast.parse(inspect.getsource(importlib.import_module("pairsfree." + file))).body
+
+
+class InterfaceTest(unittest.TestCase):
+
+    def test_functions(self):
+        for file, functions in FUNCTIONS.items():
+            found = parts_of(body_of(file), ast.FunctionDef)
+            for name, told in functions.items():
+                with self.subTest(file=file, name=name):
+                    self.assertEqual(parameters(found[name]), told)
+
+    def test_methods(self):
+        for file, classes in METHODS.items():
+            found = parts_of(body_of(file), ast.ClassDef)
+            for name, methods in classes.items():
+                own = parts_of(found[name].body, ast.FunctionDef)
+                for method, told in methods.items():
+                    with self.subTest(file=file, name=name, method=method):
+                        self.assertEqual(parameters(own[method]), told)
+
+
+if __name__ == "__main__":
+    unittest.main()
