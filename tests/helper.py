@@ -1,10 +1,13 @@
 """What several tests need: values of every kind, calls that fail, and a second way to reckon steps."""
 
 import copy
+import random
 import unittest
 from fractions import Fraction
 
+from pairsfree.pairs import Pairs
 from pairsfree.ratios import Ratio
+from pairsfree.steps import steps
 
 
 def kinds():
@@ -15,7 +18,8 @@ def kinds():
         [[0]], [[1]], [[True]], [[False]], [[0], [0]], [[[0]]], [{}], [set()], {0: 1}, {0}, {0: [1]}, [0, "a"],
         [0, True], [[0], None], [[0], 1], [[1], [True]], Ratio(0), Ratio(1), Ratio(1, 2), Ratio, int, len, kinds,
         object(), range(0), range(1), range(2), ([], []), ([0], [1]), [([0], [0])], [([True], [0])], [([0],)],
-        [[], []], [[0], []], ValueError("a"), NotImplemented, Ellipsis, iter([]), bytearray(b"0"), 1j,
+        [[], []], [[0], []], Pairs(0, []), Pairs(1, [([0], [1])]), Pairs, ValueError("a"),
+        NotImplemented, Ellipsis, iter([]), bytearray(b"0"), 1j,
     ]
 
 
@@ -147,3 +151,28 @@ def random_rows(chance, size, many, low=-2, high=2):
     """Some rows with small numbers, some of them fractions, many of them noughts."""
     return [[chance.choice([0, 0, chance.randint(low, high), Ratio(chance.randint(low, high), chance.randint(1, 3))])
              for _ in range(size)] for _ in range(many)]
+
+
+def random_room(chance, size):
+    """Some room of the size, of any rank."""
+    return steps(size, random_rows(chance, size, chance.randint(0, size)))
+
+
+def random_pairs(chance, size, many):
+    """Some pairs with rows in common, multiples, rows of noughts and pairs alike among them."""
+    some = random_rows(chance, size, max(1, size)) + random_rows(chance, size, many)
+    pairs = [(chance.choice(some), [chance.choice([1, -2]) * number for number in chance.choice(some)])
+             for _ in range(many)]
+    if many > 1 and chance.random() < 0.3:
+        pairs[0] = pairs[-1]
+    return Pairs(size, pairs)
+
+
+def sample_pairs(seed, times=3):
+    """Pairs of all sizes and numbers to 8; the same at each call."""
+    chance = random.Random(seed)
+    return [random_pairs(chance, size, many) for size in (0, 1, 2, 4, 5, 8) for many in (0, 1, 2, 3, 5, 8)
+            for _ in range(times)]
+
+
+WRONG_PAIRS = [None, True, 0, 3, "", "Pairs(0, [])", [], [([1], [0])], (1, [([1], [0])]), {}, Ratio(1), Pairs, object()]

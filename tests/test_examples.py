@@ -15,7 +15,42 @@ STEPS = """
 [True, 2, True, [[Ratio(1, 1)]], []]
 """
 
-EXAMPLES = (("ratios", RATIOS), ("steps", STEPS))
+ROOMS = """
+>>> from pairsfree.rooms import ahead, behind, beside, is_held, is_room, joined, shared
+>>> one, other = [[1, 0, 2]], [[0, 1, -1]]
+>>> [is_room(3, one), is_room(3, [[2, 0, 1]]), joined(3, other, one) == [[Ratio(1), Ratio(0), Ratio(2)], [Ratio(0), Ratio(1), Ratio(-1)]], shared(3, one, other), is_held(3, one, [Ratio(1, 2), 0, 1])]
+[True, False, True, [], True]
+>>> [behind(3, one, [[3, 1, 0], [1, 0, 2]]) == [[Ratio(1), Ratio(-6)], [Ratio(0), Ratio(0)]], ahead(3, one, [[5, 6]]) == [[Ratio(0), Ratio(5), Ratio(6)]], beside(2, [[1, 4]]), behind(1, [[1]], [[7]])]
+[True, True, [[Ratio(0, 1), Ratio(1, 1)]], [[]]]
+"""
+
+PAIRS = """
+>>> from pairsfree.pairs import Pairs
+>>> three = Pairs(4, [([1, 0, 0, 0], [0, 1, 0, 0]), ([0, 0, 1, 0], [0, 0, 0, 1]), ([1, 0, 0, 0], [0, 0, 1, 0])])
+>>> [three.size, three.many, len(three.told()), len(three.lot_rows([0, 2])), three.lot_rows([]), [str(number) for number in three.pair(2)[1]], three == Pairs(4, three.told()), Pairs(0, [([], [])])]
+[4, 3, 3, 4, [], ['0', '0', '1', '0'], True, Pairs(0, [([], [])])]
+"""
+
+LOTS = """
+>>> from pairsfree.lots import free_lots, greatest, greatest_lots, handed, is_free, is_lot, lot_rank
+>>> [is_lot(three, [0, 2]), is_lot(three, [2, 0]), lot_rank(three, [0, 2]), is_free(three, [0, 2]), free_lots(three, 1), greatest(three), greatest_lots(three)]
+[True, False, 3, False, [[0], [1], [2]], 2, [[0, 1]]]
+>>> [handed(three, [2], [0, 1]), handed(three, [], [0, 1]), greatest(Pairs(3, [])), greatest_lots(Pairs(1, [([1], [1])])), free_lots(three, 3)]
+[[], [0, 1], 0, [[]], []]
+"""
+
+PARTINGS = """
+>>> from pairsfree.pairs import Pairs
+>>> from pairsfree.partings import is_finer, is_parting, partings, told_parting
+>>> three = Pairs(3, [([1, 0, 0], [0, 1, 0]), ([0, 1, 0], [0, 0, 1]), ([1, 0, 0], [0, 0, 1])])
+>>> [is_parting(three, [[2, 0], [1]]), is_parting(three, [[0], [1]]), is_parting(three, [[0, 1], [1, 2]]), told_parting(three, ([2], (1, 0))), partings(2), len(partings(5)), partings(0)]
+[True, False, False, [[0, 1], [2]], [[[0], [1]], [[0, 1]]], 52, [[]]]
+>>> [is_finer(three, [[0], [1], [2]], [[2, 0], [1]]), is_finer(three, [[0, 2], [1]], [[0, 1], [2]])]
+[True, False]
+"""
+
+EXAMPLES = (
+    ("ratios", RATIOS), ("steps", STEPS), ("rooms", ROOMS), ("pairs", PAIRS), ("lots", LOTS), ("partings", PARTINGS))
 
 
 class ExamplesTest(unittest.TestCase):

@@ -9,6 +9,12 @@ FUNCTIONS = {
     "basics": {"is_integer": "value", "is_count": "value"},
     "ratios": {"is_number": "value"},
     "steps": {"steps": "size rows", "rank": "size rows", "zeros": "size rows"},
+    "rooms": {"is_room": "size value", "joined": "size room other", "shared": "size room other",
+              "is_held": "size room row", "behind": "size room rows", "ahead": "size room rows", "beside": "size room"},
+    "lots": {"is_lot": "pairs value", "lot_rank": "pairs lot", "is_free": "pairs lot", "free_lots": "pairs many",
+             "greatest": "pairs", "greatest_lots": "pairs", "handed": "pairs lot other"},
+    "partings": {"is_parting": "pairs value", "told_parting": "pairs parting", "partings": "many",
+                 "is_finer": "pairs parting other"},
 }
 
 METHODS = {
@@ -18,6 +24,9 @@ METHODS = {
         "__sub__": "self other", "__rsub__": "self other", "__mul__": "self other", "__rmul__": "self other",
         "__neg__": "self", "__eq__": "self other", "__str__": "self", "__repr__": "self", "top": "self",
         "bottom": "self", "sign": "self", "is_whole": "self"}},
+    "pairs": {"Pairs": {
+        "__init__": "self size rows", "size": "self", "many": "self", "pair": "self place", "told": "self",
+        "lot_rows": "self lot", "__eq__": "self other", "__repr__": "self"}},
 }
 
 
