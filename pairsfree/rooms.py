@@ -13,7 +13,7 @@ def is_room(size, value):
 
 
 def check_room(size, room):
-    """InvalidRoom unless a room of the size."""
+    """InvalidSize unless a size; InvalidRoom unless a room of it."""
     if not is_room(size, room):
         raise InvalidRoom(room)
 
@@ -33,21 +33,21 @@ def shared(size, room, other):
 
 def is_held(size, room, row):
     """Whether the room holds the row: InvalidSize; InvalidRoom; InvalidRow."""
-    check_size_and_room(size, room)
+    check_room(size, room)
     check_row(size, row)
     return all([number.sign == 0 for number in row_behind(size, room, row)])
 
 
 def behind(size, room, rows):
     """The list of the rows behind the room: InvalidSize; InvalidRoom; InvalidRows."""
-    check_size_and_room(size, room)
+    check_room(size, room)
     check_rows(size, rows)
     return [row_behind(size, room, row) for row in rows]
 
 
 def ahead(size, room, rows):
     """The list of the rows put ahead of the room, all of the size behind it: InvalidSize; InvalidRoom; InvalidRows."""
-    check_size_and_room(size, room)
+    check_room(size, room)
     if not are_rows(size - len(room), rows, MOST_ROWS):
         raise InvalidRows(rows)
     return [row_ahead(size, room, row) for row in rows]
@@ -55,19 +55,13 @@ def ahead(size, room, rows):
 
 def beside(size, room):
     """The list of the idle rows beside the room, by rising places: InvalidSize; InvalidRoom."""
-    check_size_and_room(size, room)
-    return [idle_row(size, place) for place in places_without_head(size, room)]
-
-
-def check_size_and_room(size, room):
-    """InvalidSize unless a size; InvalidRoom unless a room of it."""
-    check_size(size, MOST_SIZE)
     check_room(size, room)
+    return [idle_row(size, place) for place in places_without_head(size, room)]
 
 
 def check_two_rooms(size, room, other):
     """InvalidSize unless a size; InvalidRoom, of the first one first, unless both are rooms of it."""
-    check_size_and_room(size, room)
+    check_room(size, room)
     check_room(size, other)
 
 
@@ -75,13 +69,12 @@ def row_behind(size, room, row):
     """The row behind the room, of the lesser size."""
     heads = head_places(room)
     # Each row of a room has 0 at the heads of the others: so the numbers at the heads tell what is to be taken off.
-    numbers = ratio_row(row)
-    times = [numbers[head] for head in heads]
-    return [numbers[place] - made_number(times, room, place) for place in places_without_head(size, room)]
+    times = [row[head] for head in heads]
+    return [row[place] - made_number(times, room, place) for place in places_without_head(size, room)]
 
 
 def made_number(times, rows, place):
-    """The number at the place of the sum of multiples of the rows."""
+    """The Ratio at the place of the sum of these multiples of the rows."""
     return Ratio.total([number * row[place] for number, row in zip(times, rows)])
 
 

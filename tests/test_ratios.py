@@ -62,6 +62,7 @@ class RatioTest(Case):
 
     def test_sign(self):
         self.assertEqual([Ratio(-1, 2).sign, Ratio(0).sign, Ratio(3, 2).sign, Ratio(1, -2).sign], [-1, 0, 1, -1])
+        self.assertEqual([Ratio(1).sign, Ratio(-1).sign, Ratio(1, 999999).sign], [1, -1, 1])
         self.assertEqual({type(Ratio(top).sign) for top in (-2, 0, 2)}, {int})
 
     def test_is_whole(self):
