@@ -22,10 +22,7 @@ def told_parting(pairs, parting):
 def partings(many):
     """The sorted list of all told partings of the positions from 0 to many less 1: InvalidMany."""
     check_many(many, MOST_PLACES)
-    found = [[]]
-    for place in range(many):
-        found = [wider for parting in found for wider in with_place(parting, place)]
-    return sorted(found)
+    return sorted(all_partings(many))
 
 
 def is_finer(pairs, parting, other):
@@ -34,6 +31,14 @@ def is_finer(pairs, parting, other):
     check_parting(pairs.many, parting)
     check_parting(pairs.many, other)
     return all([lies_in_one(part, other) for part in parting])
+
+
+def all_partings(many):
+    """The list of all told partings of so many positions, however many."""
+    found = [[]]
+    for place in range(many):
+        found = [wider for parting in found for wider in with_place(parting, place)]
+    return found
 
 
 def lies_in_one(part, parting):

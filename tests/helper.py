@@ -1,6 +1,7 @@
 """What several tests need: values of every kind, calls that fail, and a second way to reckon steps."""
 
 import copy
+import itertools
 import random
 import unittest
 from fractions import Fraction
@@ -116,6 +117,28 @@ def wrong_rows(size):
     ]
 
 
+def idle(size):
+    """The room of all rows of the size."""
+    return [[1 if place == at else 0 for place in range(size)] for at in range(size)]
+
+
+def wrong_rooms(size):
+    """Values of many kinds that are no room of the size, which is at least 2."""
+    nought, one = [0] * size, [1] + [0] * (size - 1)
+    last = [0] * (size - 1) + [1]
+    return [
+        None, True, 0, "", {}, set(), object(), Ratio(1), [nought], [one, nought], [nought, last], [[2] + one[1:]],
+        [last, one], [one, one], [[1] * size, last], [one, [1] * size], [one + [0]], [one[1:]], [[True] + one[1:]],
+        [one[:-1] + [False]], [one, None], [[-1] + one[1:]], idle(size) + [nought], idle(size) + idle(size), one,
+        ([Ratio(1, 2)] + one[1:],), range(0), {0: one}, iter([one]), [["1"] + one[1:]], [[Ratio(0)] * size],
+    ]
+
+
+def wrong_places(many):
+    """Values of many kinds that are no position of so many things."""
+    return [many, many + 1, -1, 10 ** 30, None, True, False, "0", Ratio(0), Ratio(1), [0], (0,), {}, set(), object()]
+
+
 def wrong_row(size):
     """Values of many kinds that are no row of the size, which is at least 1."""
     good = [0] * size
@@ -147,6 +170,103 @@ def plain_steps(rows):
     return [row for _, row in sorted(found)]
 
 
+def plain_rank(rows):
+    """The rank of the rows by the other way."""
+    return len(plain_steps(rows))
+
+
+def plain_zeros(size, rows):
+    """Rows that make all zeros of the rows; Fractions."""
+    room = plain_steps(rows)
+    heads = [next(place for place, number in enumerate(row) if number) for row in room]
+    found = []
+    for place in range(size):
+        if place not in heads:
+            zero = [Fraction(int(at == place)) for at in range(size)]
+            for row, head in zip(room, heads):
+                zero[head] = -row[place]
+            found.append(zero)
+    return found
+
+
+def lot_rows(told, lot):
+    """The rows of the lot of the told pairs."""
+    return [row for place in lot for row in told[place]]
+
+
+def plain_lots(pairs, many):
+    """All free lots of so many positions, by going through all of them."""
+    return lots_behind(pairs, [], many)
+
+
+def lots_behind(pairs, room, many):
+    """All lots of so many positions that are free behind the room of some rows, by going through all of them."""
+    told = pairs.told()
+    lots = [list(lot) for lot in itertools.combinations(range(pairs.many), many)]
+    return [lot for lot in lots if plain_rank(room + lot_rows(told, lot)) == plain_rank(room) + 2 * many]
+
+
+def plain_greatest_lots(pairs, room=()):
+    """All greatest ones of the lots that are free behind the room of some rows, by going through all of them."""
+    room = list(room)
+    most = (pairs.size - plain_rank(room)) // 2
+    return [lots for lots in [lots_behind(pairs, room, many) for many in range(most + 1)] if lots][-1]
+
+
+def plain_greatest(pairs, room=()):
+    """The greatest number of the pairs behind the room of some rows, by going through all lots."""
+    return len(plain_greatest_lots(pairs, room)[0])
+
+
+def is_in_all_rooms(pairs, row, room=()):
+    """Whether, behind the room of some rows, the rows of each greatest lot make the row."""
+    told = pairs.told()
+    rooms = [list(room) + lot_rows(told, lot) for lot in plain_greatest_lots(pairs, room)]
+    return all(plain_rank(rows + [row]) == plain_rank(rows) for rows in rooms)
+
+
+def plain_common(pairs, room=()):
+    """The steps of all rows that, with those of the room, are made of the room and the rows of each greatest lot."""
+    told = pairs.told()
+    zeros = [zero for lot in plain_greatest_lots(pairs, room)
+             for zero in plain_zeros(pairs.size, list(room) + lot_rows(told, lot))]
+    return plain_steps(plain_zeros(pairs.size, zeros))
+
+
+def plain_worth(pairs, room, parting):
+    """The worth of the bound by ranks of the room's rows with those of each part."""
+    told = pairs.told()
+    return len(room) + sum((plain_rank(list(room) + lot_rows(told, part)) - len(room)) // 2 for part in parting)
+
+
+def plain_partings(many):
+    """All told partings, by another way: the others of the part of the first position are chosen, and so on."""
+    def split(places):
+        if not places:
+            return [[]]
+        found = []
+        for length in range(len(places)):
+            for others in itertools.combinations(places[1:], length):
+                left = [place for place in places[1:] if place not in others]
+                found.extend([[places[0], *others]] + rest for rest in split(left))
+        return found
+    return sorted(split(list(range(many))))
+
+
+def plain_least_worth(pairs, room):
+    """The least worth of all partings with the room."""
+    told = pairs.told()
+    parts = [part for length in range(1, pairs.many + 1) for part in itertools.combinations(range(pairs.many), length)]
+    halves = {part: (plain_rank(list(room) + lot_rows(told, part)) - len(room)) // 2 for part in parts}
+    return len(room) + min(sum(halves[tuple(part)] for part in parting) for parting in plain_partings(pairs.many))
+
+
+def is_told_room(size, room):
+    """Whether this is a list of lists of Ratios, in steps."""
+    return numbers_are_ratios(room) and all(len(row) == size for row in room) and (
+        fraction_rows(room) == plain_steps(room))
+
+
 def random_rows(chance, size, many, low=-2, high=2):
     """Some rows with small numbers, some of them fractions, many of them noughts."""
     return [[chance.choice([0, 0, chance.randint(low, high), Ratio(chance.randint(low, high), chance.randint(1, 3))])
@@ -175,4 +295,42 @@ def sample_pairs(seed, times=3):
             for _ in range(times)]
 
 
+def knit_pairs(chance, size, many):
+    """Some pairs of which several are made of the same few rows: so there are rooms that they share."""
+    base = [[chance.randint(-1, 1) for _ in range(size)] for _ in range(chance.randint(0, 2))]
+    parts = [base + [[chance.randint(-1, 1) for _ in range(size)] for _ in range(chance.randint(1, 3))]
+             for _ in range(max(1, many // 2))]
+    return Pairs(size, [tuple(mixed_row(chance, size, part) for _ in range(2))
+                        for part in [chance.choice(parts) for _ in range(many)]])
+
+
+def tied_pairs(chance, size, many):
+    """Some pairs of which each is made of two of the rows of one free list: so some are in no greatest lot."""
+    rows = [[chance.randint(-1, 1) if place < at else int(place == at) for place in range(size)] for at in range(size)]
+    if size < 2:
+        return Pairs(size, [(row, row) for row in [[0] * size] * many])
+    return Pairs(size, [tuple(chance.sample(rows, 2)) for _ in range(many)])
+
+
+def mixed_row(chance, size, rows):
+    """A row that is made of the rows with small multiples."""
+    times = [chance.choice([0, 1, -1, 2]) for _ in rows]
+    return [sum(number * row[place] for number, row in zip(times, rows)) for place in range(size)]
+
+
+def few_pairs(seed, times=1, sizes=(0, 1, 2, 3, 4, 5, 6), manies=(0, 1, 2, 3, 4, 5, 7)):
+    """Pairs of all sizes and numbers to 7, of three kinds, as often as told; the same at each call."""
+    chance = random.Random(seed)
+    return [made(chance, size, many) for size in sizes for many in manies
+            for made in (random_pairs, knit_pairs, tied_pairs) for _ in range(times)]
+
+
+WRONG_LOTS = [[2, 0], [0, 0], [8], [0, 3], [-1], [True], [False], [0, True], [Ratio(0)], ["0"], [[0]], (1, 0), (0, 0),
+              None, 0, True, "", "01", {}, {0: 1}, {0}, range(2), [None], object(), [10 ** 30]]
+# Of three pairs.
+WRONG_PARTINGS = [[], [[0], [1]], [[0, 1], [1, 2]], [[0, 1, 2], []], [[], [0, 1, 2]], [[0, 1, 2, 3]], [[0, 1, 2], [3]],
+                  [[0, 0, 1, 2]], [[0, 1, 2], [0, 1, 2]], [[0, 1], [True, 2]], [[False], [1], [2]], [[0, 1, Ratio(2)]],
+                  [0, 1, 2], [[0, 1], 2], [[0, 1], None], [[0, 1], "2"], "012", None, 0, True, "", {}, {0: [1]}, set(),
+                  [{0, 1, 2}], [range(3)], range(3), object(), [[0, 1, -1]], [[0, 1, [2]]], ((0, 1), (1, 2)), (),
+                  [[0, 1, 2, 10 ** 30]], [[0], [1], [2], [2]], [{0: 0, 1: 1, 2: 2}], iter([[0, 1, 2]])]
 WRONG_PAIRS = [None, True, 0, 3, "", "Pairs(0, [])", [], [([1], [0])], (1, [([1], [0])]), {}, Ratio(1), Pairs, object()]

@@ -49,8 +49,42 @@ PARTINGS = """
 [True, False]
 """
 
+BOUNDS = """
+>>> from pairsfree.bounds import best_parting, is_tight, least_worth, part_ranks, worth
+>>> star = Pairs(4, [([1, 0, 0, 0], [0, 1, 0, 0]), ([1, 0, 0, 0], [0, 0, 1, 0]), ([1, 0, 0, 0], [0, 0, 0, 1])])
+>>> [part_ranks(three, [], [[0, 1, 2]]), worth(three, [], [[0, 1, 2]]), worth(three, [], [[0], [2, 1]]), best_parting(three, []), is_tight(three, [], [[0, 1, 2]])]
+[[3], 1, 2, [[0, 1, 2]], True]
+>>> [least_worth(star, []), part_ranks(star, [[1, 0, 0, 0]], [[1], [0], [2]]), least_worth(star, [[1, 0, 0, 0]]), is_tight(star, [], [[0, 1, 2]])]
+[2, [1, 1, 1], 1, False]
+"""
+
+COMMON = """
+>>> from pairsfree.common import behind_room, behind_row, common_room, is_common
+>>> from pairsfree.pairs import Pairs
+>>> star, ring = Pairs(3, [([1, 0, 0], [0, 1, 0]), ([1, 0, 0], [0, 0, 1])]), Pairs(3, [([1, 0, 0], [0, 1, 0]), ([0, 1, 0], [0, 0, 1]), ([1, 0, 0], [0, 0, 1])])
+>>> [common_room(star) == steps(3, [[1, 0, 0]]), common_room(ring), is_common(star, [2, 0, 0]), is_common(star, [1, 1, 0]), behind_row(star, [2, 0, 0]) == Pairs(2, [([0, 0], [1, 0]), ([0, 0], [0, 1])]), behind_room(ring, []) == ring]
+[True, [], True, False, True, True]
+"""
+
+ENGINE = """
+>>> from pairsfree.engine import bound, core, first_lot, is_bound, is_papers, papers
+>>> [core(ring), bound(ring), core(star) == steps(3, [[1, 0, 0]]), is_bound(star, ([[1, 0, 0]], [[1], [0]])), is_bound(star, ([], [[0, 1]])), is_bound(star, ([], [[0], [1]])), first_lot(ring)]
+[[], ([], [[0, 1, 2]]), True, True, True, False, [0]]
+>>> [is_papers(ring, ([2], [], [[0, 1, 2]])), is_papers(ring, papers(ring)), is_papers(ring, ([0], [[1, 0, 0]], [[0], [1], [2]]))]
+[True, True, False]
+"""
+
+WHICH = """
+>>> from pairsfree.pairs import Pairs
+>>> from pairsfree.which import falls, in_all, in_none, in_some, put_in, without
+>>> four = Pairs(4, [((1, 0, 0, 0), (0, 1, 0, 0)), ((0, 0, 1, 0), (0, 0, 0, 1)), ((1, 0, 0, 0), (0, 0, 1, 0))])
+>>> [in_all(four), in_some(four), in_none(four), falls(four, 0), falls(four, 2), without(four, 1).many, put_in(without(four, 2), four.pair(2)) == four]
+[[0, 1], [0, 1], [2], True, False, 2, True]
+"""
+
 EXAMPLES = (
-    ("ratios", RATIOS), ("steps", STEPS), ("rooms", ROOMS), ("pairs", PAIRS), ("lots", LOTS), ("partings", PARTINGS))
+    ("ratios", RATIOS), ("steps", STEPS), ("rooms", ROOMS), ("pairs", PAIRS), ("lots", LOTS), ("partings", PARTINGS),
+    ("bounds", BOUNDS), ("common", COMMON), ("engine", ENGINE), ("which", WHICH))
 
 
 class ExamplesTest(unittest.TestCase):

@@ -1,71 +1,51 @@
-"""The guarantees [4], as far as rows, rooms, lots and partings tell them."""
+"""The guarantees [4], against a plain search that goes through all lots, and through all partings."""
 
 import itertools
 import random
 import unittest
 
-from pairsfree.lots import greatest, greatest_lots
-from pairsfree.pairs import Pairs
+from pairsfree.bounds import worth
+from pairsfree.common import behind_row, common_room
+from pairsfree.engine import is_papers, papers
+from pairsfree.lots import greatest
 from pairsfree.partings import partings
-from pairsfree.rooms import ahead, behind, is_held, joined, shared
-from pairsfree.steps import rank, steps
-from tests.helper import random_pairs, random_room, random_rows
+from pairsfree.rooms import is_held
+from pairsfree.steps import steps
+from tests.helper import (few_pairs, is_in_all_rooms, lot_rows, plain_greatest, plain_partings, plain_rank,
+                          plain_worth, random_room, random_rows)
 
-
-def behind_room(pairs, room):
-    return Pairs(pairs.size - len(room), [tuple(behind(pairs.size, room, pair)) for pair in pairs.told()])
-
-
-def common_room(pairs):
-    """What the rooms of the rows of all greatest free lots share."""
-    rooms = [steps(pairs.size, pairs.lot_rows(lot)) for lot in greatest_lots(pairs)]
-    room = rooms[0]
-    for other in rooms[1:]:
-        room = shared(pairs.size, room, other)
-    return room
-
-
-def worth(pairs, room, parting):
-    there = behind_room(pairs, room)
-    return len(room) + sum(rank(there.size, there.lot_rows(sorted(part))) // 2 for part in parting)
-
-
-def core(pairs):
-    """A room behind which nothing is shared: row after row that is shared is put to it."""
-    room = []
-    while common_room(behind_room(pairs, room)):
-        row = common_room(behind_room(pairs, room))[0]
-        room = joined(pairs.size, room, steps(pairs.size, ahead(pairs.size, room, [row])))
-    return room
-
-
-def samples(seed):
-    chance = random.Random(seed)
-    return [random_pairs(chance, size, many) for size in (0, 2, 4, 6) for many in (0, 1, 3, 4, 5) for _ in range(3)]
+SMALL = {"sizes": (0, 2, 4, 6), "manies": (0, 1, 3, 4, 5)}
 
 
 class GuaranteesTest(unittest.TestCase):
 
-    def test_the_shared_room(self):
-        chance = random.Random(41)
-        for pairs in samples(41):
-            room = common_room(pairs)
-            for row in random_rows(chance, pairs.size, 4) + room:
-                line = steps(pairs.size, [row])
-                if line:
-                    fall = greatest(pairs) - greatest(behind_room(pairs, line))
-                    self.assertEqual(fall, 1 if is_held(pairs.size, room, row) else 0)
-
     def test_one_number(self):
-        for pairs in samples(42):
-            room = core(pairs)
-            self.assertEqual(min(worth(pairs, room, parting) for parting in partings(pairs.many)), greatest(pairs))
+        for pairs in few_pairs(42, 2, **SMALL):
+            number = plain_greatest(pairs)
+            lot, room, parting = papers(pairs)
+            self.assertTrue(is_papers(pairs, (lot, room, parting)))
+            self.assertEqual([len(lot), plain_worth(pairs, room, parting), greatest(pairs)], [number] * 3)
+            self.assertEqual(plain_rank(lot_rows(pairs.told(), lot)), 2 * number)
+            self.assertEqual(min(plain_worth(pairs, room, other) for other in plain_partings(pairs.many)), number)
 
     def test_no_bound_is_less(self):
         chance = random.Random(43)
-        for pairs in samples(43):
+        for pairs in few_pairs(43, **SMALL):
             for room, parting in itertools.product([[], random_room(chance, pairs.size)], partings(pairs.many)[:9]):
-                self.assertGreaterEqual(worth(pairs, room, parting), greatest(pairs))
+                self.assertGreaterEqual(worth(pairs, room, parting), plain_greatest(pairs))
+
+    def test_the_shared_room(self):
+        chance = random.Random(41)
+        falls = []
+        for pairs in few_pairs(41, **SMALL):
+            room = common_room(pairs)
+            for row in random_rows(chance, pairs.size, 3) + room:
+                if steps(pairs.size, [row]):
+                    falls.append(plain_greatest(pairs) - plain_greatest(pairs, [row]))
+                    self.assertEqual(falls[-1], 1 if is_in_all_rooms(pairs, row) else 0)
+                    self.assertEqual(falls[-1], 1 if is_held(pairs.size, room, row) else 0)
+                    self.assertEqual(falls[-1], greatest(pairs) - greatest(behind_row(pairs, row)))
+        self.assertEqual(set(falls), {0, 1})
 
 
 if __name__ == "__main__":

@@ -15,6 +15,13 @@ FUNCTIONS = {
              "greatest": "pairs", "greatest_lots": "pairs", "handed": "pairs lot other"},
     "partings": {"is_parting": "pairs value", "told_parting": "pairs parting", "partings": "many",
                  "is_finer": "pairs parting other"},
+    "bounds": {"part_ranks": "pairs room parting", "worth": "pairs room parting", "least_worth": "pairs room",
+               "best_parting": "pairs room", "is_tight": "pairs room parting"},
+    "common": {"common_room": "pairs", "is_common": "pairs row", "behind_row": "pairs row", "behind_room": "pairs room"},
+    "engine": {"core": "pairs", "bound": "pairs", "is_bound": "pairs value", "first_lot": "pairs", "papers": "pairs",
+               "is_papers": "pairs value"},
+    "which": {"in_all": "pairs", "in_some": "pairs", "in_none": "pairs", "falls": "pairs place",
+              "without": "pairs place", "put_in": "pairs pair"},
 }
 
 METHODS = {

@@ -1,6 +1,5 @@
 """Lots [6]: free ones [22], greatest ones [23], handed over [24]."""
 
-import itertools
 import random
 import unittest
 
@@ -9,23 +8,14 @@ from pairsfree.lots import free_lots, greatest, greatest_lots, handed, is_free, 
 from pairsfree.pairs import Pairs
 from pairsfree.ratios import Ratio
 from pairsfree.steps import rank
-from tests.helper import WRONG_PAIRS, Case, kinds, plain_steps, sample_pairs
+from tests.helper import WRONG_LOTS, WRONG_PAIRS, Case, idle, kinds, plain_lots, plain_steps, sample_pairs
 
-WRONG_LOTS = [[2, 0], [0, 0], [8], [0, 3], [-1], [True], [False], [0, True], [Ratio(0)], ["0"], [[0]], (1, 0), (0, 0),
-              None, 0, True, "", "01", {}, {0: 1}, {0}, range(2), [None], object(), [10 ** 30]]
 WRONG_MANIES = [9, -1, None, True, False, 10 ** 30, "1", [1], (1,), {}, Ratio(1), Ratio(0), object()]
 
-IDLE = [[1 if place == at else 0 for place in range(8)] for at in range(8)]
+IDLE = idle(8)
 # The first and the second are free together, with the third none is; the fourth is not free by itself.
 SOME = Pairs(4, [(IDLE[0][:4], IDLE[1][:4]), (IDLE[2][:4], IDLE[3][:4]), (IDLE[0][:4], IDLE[2][:4]),
                  (IDLE[3][:4], [0, 0, 0, 2])])
-
-
-def plain_lots(pairs, many):
-    """All free lots of so many positions, by going through all of them."""
-    told = pairs.told()
-    lots = [list(lot) for lot in itertools.combinations(range(pairs.many), many)]
-    return [lot for lot in lots if len(plain_steps([row for place in lot for row in told[place]])) == 2 * many]
 
 
 class LotsTest(Case):

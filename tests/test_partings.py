@@ -7,28 +7,14 @@ from pairsfree.errors import InvalidMany, InvalidPairs, InvalidParting
 from pairsfree.pairs import Pairs
 from pairsfree.partings import is_finer, is_parting, partings, told_parting
 from pairsfree.ratios import Ratio
-from tests.helper import WRONG_PAIRS, Case, kinds, tupled
+from tests.helper import WRONG_PAIRS, WRONG_PARTINGS, Case, kinds, plain_partings, tupled
 
-WRONG_PARTINGS = [[], [[0], [1]], [[0, 1], [1, 2]], [[0, 1, 2], []], [[], [0, 1, 2]], [[0, 1, 2, 3]], [[0, 1, 2], [3]],
-                  [[0, 0, 1, 2]], [[0, 1, 2], [0, 1, 2]], [[0, 1], [True, 2]], [[False], [1], [2]], [[0, 1, Ratio(2)]],
-                  [0, 1, 2], [[0, 1], 2], [[0, 1], None], [[0, 1], "2"], "012", None, 0, True, "", {}, {0: [1]}, set(),
-                  [{0, 1, 2}], [range(3)], range(3), object(), [[0, 1, -1]], [[0, 1, [2]]], ((0, 1), (1, 2)), (),
-                  [[0, 1, 2, 10 ** 30]], [[0], [1], [2], [2]], [{0: 0, 1: 1, 2: 2}], iter([[0, 1, 2]])]
 WRONG_MANIES = [7, 8, -1, None, True, False, 10 ** 30, "1", [1], (1,), {}, Ratio(1), Ratio(0), object()]
 
 
 def pairs_of(many):
     """Some pairs, so many."""
     return Pairs(1, [([1], [2])] * many)
-
-
-def plain_partings(many):
-    """All told partings, by another way: each position is given the number of a part."""
-    found = []
-    for numbers in itertools.product(range(many), repeat=many):
-        parts = [[place for place in range(many) if numbers[place] == number] for number in range(many)]
-        found.append(sorted(part for part in parts if part))
-    return sorted(parting for at, parting in enumerate(sorted(found)) if at == 0 or parting != sorted(found)[at - 1])
 
 
 class PartingsTest(Case):
@@ -68,8 +54,8 @@ class PartingsTest(Case):
         self.assertEqual(told_parting(three, [(2,), (1,), (0,)]), [[0], [1], [2]])
 
     def test_partings(self):
-        for many in range(6):
-            self.assertEqual(partings(many), plain_partings(many) if many else [[]])
+        for many in range(7):
+            self.assertEqual(partings(many), plain_partings(many))
         self.assertEqual([len(partings(many)) for many in range(7)], [1, 1, 2, 5, 15, 52, 203])
         self.assertEqual(partings(3), [[[0], [1], [2]], [[0], [1, 2]], [[0, 1], [2]], [[0, 1, 2]], [[0, 2], [1]]])
         six = partings(6)

@@ -8,15 +8,10 @@ from pairsfree.errors import InvalidRoom, InvalidRow, InvalidRows, InvalidSize
 from pairsfree.ratios import Ratio
 from pairsfree.rooms import ahead, behind, beside, is_held, is_room, joined, shared
 from pairsfree.steps import rank, steps
-from tests.helper import (Case, fraction_rows, kinds, numbers_are_ratios, plain_steps, random_room, random_rows,
-                          rationed, tupled, wrong_row, wrong_rows, wrong_sizes)
+from tests.helper import (Case, fraction_rows, idle, kinds, numbers_are_ratios, plain_steps, random_room, random_rows,
+                          rationed, tupled, wrong_rooms, wrong_row, wrong_rows, wrong_sizes)
 
 SIZES = (0, 1, 2, 3, 4, 6)
-
-
-def idle(size):
-    """The room of all rows of the size."""
-    return [[1 if place == at else 0 for place in range(size)] for at in range(size)]
 
 
 def samples(seed, times=6):
@@ -33,18 +28,6 @@ def samples(seed, times=6):
 def is_made(rows, row):
     """Whether the row is made of the rows, reckoned another way."""
     return len(plain_steps(rows + [row])) == len(plain_steps(rows))
-
-
-def wrong_rooms(size):
-    """Values of many kinds that are no room of the size, which is at least 2."""
-    nought, one = [0] * size, [1] + [0] * (size - 1)
-    last = [0] * (size - 1) + [1]
-    return [
-        None, True, 0, "", {}, set(), object(), Ratio(1), [nought], [one, nought], [nought, last], [[2] + one[1:]],
-        [last, one], [one, one], [[1] * size, last], [one, [1] * size], [one + [0]], [one[1:]], [[True] + one[1:]],
-        [one[:-1] + [False]], [one, None], [[-1] + one[1:]], idle(size) + [nought], idle(size) + idle(size), one,
-        ([Ratio(1, 2)] + one[1:],), range(0), {0: one}, iter([one]), [["1"] + one[1:]], [[Ratio(0)] * size],
-    ]
 
 
 class IsRoomTest(Case):

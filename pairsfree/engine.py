@@ -1,0 +1,84 @@
+"""Cores, bounds that are worth just the greatest number, and papers of it: a lot with such a bound."""
+
+from pairsfree.bounds import best_parting, check_parted, is_tight, worth
+from pairsfree.common import behind_room, common_room
+from pairsfree.lots import greatest_lots, is_free, is_lot
+from pairsfree.pairs import check_pairs
+from pairsfree.partings import is_parting
+from pairsfree.rooms import ahead, is_held, is_room
+from pairsfree.steps import steps
+
+
+def core(pairs):
+    """A room behind which nothing is shared, and which has a tight parting: InvalidPairs; TooMany."""
+    check_pairs(pairs)
+    check_parted(pairs)
+    room = []
+    row = shared_row(pairs)
+    while row is not None:
+        room = steps(pairs.size, room + ahead(pairs.size, room, [row]))
+        row = shared_row(behind_room(pairs, room))
+    return room
+
+
+def bound(pairs):
+    """A bound whose worth is the greatest number, told: InvalidPairs; TooMany."""
+    room = core(pairs)
+    return room, best_parting(pairs, room)
+
+
+def is_bound(pairs, value):
+    """Whether any value is a bound whose worth is the greatest number: InvalidPairs."""
+    check_pairs(pairs)
+    if not isinstance(value, tuple) or len(value) != 2:
+        return False
+    room, parting = value
+    return is_room(pairs.size, room) and is_parting(pairs, parting) and is_tight(pairs, room, parting)
+
+
+def first_lot(pairs):
+    """The first of all greatest free lots: InvalidPairs."""
+    return greatest_lots(pairs)[0]
+
+
+def papers(pairs):
+    """A greatest free lot, and the room and the parting that show that it is one: InvalidPairs; TooMany."""
+    room, parting = bound(pairs)
+    return first_lot(pairs), room, parting
+
+
+def is_papers(pairs, value):
+    """Whether any value is a free lot with a bound that is worth as many positions as it has: InvalidPairs."""
+    check_pairs(pairs)
+    return is_lot_with_bound(pairs, pairs, value) and spare_worth(pairs, value) == 0
+
+
+def shared_row(pairs):
+    """A row of the shared room that is not all noughts; None if nothing is shared."""
+    common = common_room(pairs)
+    if not common:
+        return None
+    # Rows of the pairs have fewer digits than those of the shared room, and so has a core that is made of them.
+    own = [row for row in pairs.lot_rows(list(range(pairs.many))) if is_held_row(pairs.size, common, row)]
+    return own[0] if own else common[0]
+
+
+def is_held_row(size, room, row):
+    """Whether the room holds the row, and it is not all noughts."""
+    return any([number.sign != 0 for number in row]) and is_held(size, room, row)
+
+
+def is_lot_with_bound(pairs, bounded, value):
+    """Whether any value is a free lot of the first pairs with a room and a parting of the second ones, in a tuple."""
+    if not isinstance(value, tuple) or len(value) != 3:
+        return False
+    lot, room, parting = value
+    if not is_lot(pairs, lot) or not is_free(pairs, lot):
+        return False
+    return is_room(bounded.size, room) and is_parting(bounded, parting)
+
+
+def spare_worth(bounded, value):
+    """By how much the worth of the bound is greater than how many positions the lot has."""
+    lot, room, parting = value
+    return worth(bounded, room, parting) - len(lot)
