@@ -1,6 +1,5 @@
 """Bounds of pairs: a room with a parting, what it is worth, and the least worth for a room."""
 
-from pairsfree.checks import check_parting
 from pairsfree.errors import TooMany
 from pairsfree.lots import greatest
 from pairsfree.pairs import check_pairs
@@ -13,7 +12,8 @@ MOST_PARTED = 7
 
 def part_ranks(pairs, room, parting):
     """The ranks of the told parting's parts behind the room: InvalidPairs; InvalidRoom; InvalidParting."""
-    check_bound(pairs, room, parting)
+    check_pairs(pairs)
+    check_room(pairs.size, room)
     return [part_rank(pairs, room, part) for part in told_parting(pairs, parting)]
 
 
@@ -44,13 +44,6 @@ def is_tight(pairs, room, parting):
     return worth(pairs, room, parting) == greatest(pairs)
 
 
-def check_bound(pairs, room, parting):
-    """InvalidPairs unless a Pairs; InvalidRoom, InvalidParting unless a room and a parting of them."""
-    check_pairs(pairs)
-    check_room(pairs.size, room)
-    check_parting(pairs.many, parting)
-
-
 def check_parted(pairs):
     """TooMany if there are more pairs than all partings are looked at for."""
     if pairs.many > MOST_PARTED:
@@ -59,7 +52,7 @@ def check_parted(pairs):
 
 def part_rank(pairs, room, part):
     """The rank that the rows of the part's pairs have behind the room."""
-    return rank(pairs.size, [*room, *pairs.lot_rows(part)]) - len(room)
+    return rank(pairs.size, list(room) + pairs.lot_rows(part)) - len(room)
 
 
 def half_ranks(pairs, room):

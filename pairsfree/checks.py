@@ -1,7 +1,8 @@
 """What values that are passed must be like, and the errors of those that are not."""
 
 from pairsfree.basics import is_count
-from pairsfree.errors import InvalidLot, InvalidMany, InvalidParting, InvalidPlace, InvalidRow, InvalidRows, InvalidSize
+from pairsfree.errors import (
+    InvalidLot, InvalidMany, InvalidParting, InvalidPlace, InvalidPlaces, InvalidRow, InvalidRows, InvalidSize)
 from pairsfree.ratios import is_number
 
 MOST_ROWS = 40
@@ -72,6 +73,12 @@ def check_place(many, place):
     """InvalidPlace unless a position of so many pairs."""
     if not is_position(many, place):
         raise InvalidPlace(place)
+
+
+def check_places(many, places):
+    """InvalidPlaces unless a list of unlike places out of so many, rising."""
+    if not is_rising(many, places):
+        raise InvalidPlaces(places)
 
 
 def check_lot(many, lot):

@@ -21,7 +21,6 @@ def common_room(pairs):
 def is_common(pairs, row):
     """Whether the shared room holds the row: InvalidPairs; InvalidRow."""
     check_pairs(pairs)
-    check_row(pairs.size, row)
     return is_held(pairs.size, common_room(pairs), row)
 
 

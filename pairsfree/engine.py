@@ -1,8 +1,8 @@
 """Cores, bounds that are worth just the greatest number, and papers of it: a lot with such a bound."""
 
-from pairsfree.bounds import best_parting, check_parted, is_tight, worth
+from pairsfree.bounds import best_parting, check_parted, is_tight, least_worth, worth
 from pairsfree.common import behind_room, common_room
-from pairsfree.lots import greatest_lots, is_free, is_lot
+from pairsfree.lots import greatest, greatest_lots, is_free, is_lot
 from pairsfree.pairs import check_pairs
 from pairsfree.partings import is_parting
 from pairsfree.rooms import ahead, is_held, is_room
@@ -10,20 +10,17 @@ from pairsfree.steps import steps
 
 
 def core(pairs):
-    """A room behind which nothing is shared, and which has a tight parting: InvalidPairs; TooMany."""
+    """A room behind which nothing is shared, and which has a tight parting, told: InvalidPairs; TooMany."""
     check_pairs(pairs)
     check_parted(pairs)
-    room = []
-    row = shared_row(pairs)
-    while row is not None:
-        room = steps(pairs.size, room + ahead(pairs.size, room, [row]))
-        row = shared_row(behind_room(pairs, room))
-    return room
+    # Cores are not single, and some have numbers of very many digits.
+    return min([grown_core(pairs, True), grown_core(pairs, False)], key=longest_number)
 
 
 def bound(pairs):
     """A bound whose worth is the greatest number, told: InvalidPairs; TooMany."""
-    room = core(pairs)
+    # Where nothing will do as the room, no numbers need be told at all.
+    room = [] if least_worth(pairs, []) == greatest(pairs) else core(pairs)
     return room, best_parting(pairs, room)
 
 
@@ -53,14 +50,29 @@ def is_papers(pairs, value):
     return is_lot_with_bound(pairs, pairs, value) and spare_worth(pairs, value) == 0
 
 
-def shared_row(pairs):
+def grown_core(pairs, own_first):
+    """A core that grows by a shared row at a time, by one of the pairs' own rows first or by those of the steps."""
+    room = []
+    row = shared_row(pairs, own_first)
+    while row is not None:
+        room = steps(pairs.size, room + ahead(pairs.size, room, [row]))
+        row = shared_row(behind_room(pairs, room), own_first)
+    return room
+
+
+def shared_row(pairs, own_first):
     """A row of the shared room that is not all noughts; None if nothing is shared."""
     common = common_room(pairs)
     if not common:
         return None
-    # Rows of the pairs have fewer digits than those of the shared room, and so has a core that is made of them.
-    own = [row for row in pairs.lot_rows(list(range(pairs.many))) if is_held_row(pairs.size, common, row)]
+    rows = pairs.lot_rows(list(range(pairs.many)))
+    own = [row for row in rows if own_first and is_held_row(pairs.size, common, row)]
     return own[0] if own else common[0]
+
+
+def longest_number(room):
+    """How many binary digits the longest number of the room has above and below the stroke; 0 for nothing."""
+    return max([number.top.bit_length() + number.bottom.bit_length() for row in room for number in row], default=0)
 
 
 def is_held_row(size, room, row):

@@ -233,6 +233,20 @@ def plain_common(pairs, room=()):
     return plain_steps(plain_zeros(pairs.size, zeros))
 
 
+def plain_behind(pairs, room):
+    """The Pairs behind the room that some rows make, each row reckoned by the words."""
+    room = plain_steps(room)
+    heads = [next(place for place, number in enumerate(row) if number) for row in room]
+    found = []
+    for pair in pairs.told():
+        rows = fraction_rows(pair)
+        for head, line in zip(heads, room):
+            rows = [[number - row[head] * taken for number, taken in zip(row, line)] for row in rows]
+        found.append([[Ratio(number.numerator, number.denominator) for place, number in enumerate(row)
+                       if place not in heads] for row in rows])
+    return Pairs(pairs.size - len(room), found)
+
+
 def plain_worth(pairs, room, parting):
     """The worth of the bound by ranks of the room's rows with those of each part."""
     told = pairs.told()
@@ -323,6 +337,62 @@ def few_pairs(seed, times=1, sizes=(0, 1, 2, 3, 4, 5, 6), manies=(0, 1, 2, 3, 4,
     chance = random.Random(seed)
     return [made(chance, size, many) for size in sizes for many in manies
             for made in (random_pairs, knit_pairs, tied_pairs) for _ in range(times)]
+
+
+def plain_determinant(rows):
+    """The determinant, by all sequences of the places; Fractions."""
+    rows = fraction_rows(rows)
+    return sum(sign * product_of([row[place] for row, place in zip(rows, places)])
+               for places, sign in sequences(len(rows)))
+
+
+def sequences(many):
+    """All sequences of so many places, each with the sign of how many of them stand behind a greater one."""
+    for places in itertools.permutations(range(many)):
+        turned = sum(places[i] > places[j] for i in range(many) for j in range(i, many))
+        yield places, -1 if turned % 2 else 1
+
+
+def product_of(numbers):
+    """All multiplied, 1 of none."""
+    found = Fraction(1)
+    for number in numbers:
+        found = found * number
+    return found
+
+
+def random_table(chance, size):
+    """Some turned table with small numbers, some of them fractions."""
+    table = [[0] * size for _ in range(size)]
+    for i, j in itertools.combinations(range(size), 2):
+        number = chance.choice([0, chance.randint(-3, 3), Ratio(chance.randint(-3, 3), chance.randint(1, 3))])
+        table[i][j], table[j][i] = number, -number
+    return table
+
+
+def wrong_tables():
+    """Values of many kinds that are no turned table."""
+    return [None, True, False, 0, "", "0", {}, set(), object(), Ratio(0), range(0), [1], [0], [[]], [[1]], [[False]],
+            [[0, 0]], [[0], [0]], [[0, 1], [1, 0]], [[0, 1], [0, 0]], [[1, 0], [0, -1]], [[0, 1], [-1, 1]],
+            [[0, 1], [-1]], [[0, 1], [-1, 0], [0, 0]], [[0, True], [-1, 0]], [[0, False], [0, 0]], [[0, 1], None],
+            [[0, "1"], ["-1", 0]],
+            [[0, 1, 2], [-1, 0, 3], [-2, 3, 0]], [[0, Ratio(1, 2)], [Ratio(1, 2), 0]], [[0] * 9] * 9, {0: [0]},
+            iter([]), ((0, 1), (1, 0)), [[0, 0], (0, 0, 0)], [[Ratio(1)]], [[0, [1]], [[-1], 0]], Pairs(0, [])]
+
+
+def wrong_numbers(many):
+    """Values of many kinds that are no list of so many NUMBERS; many is at least 1."""
+    good = [1] * many
+    return [None, True, 0, "", "1" * many, {}, set(), object(), Ratio(1), range(many), good + [1], good[1:],
+            [True] + good[1:], good[1:] + [False], good[1:] + [None], good[1:] + ["1"], good[1:] + [[1]], [good],
+            tuple(good) + (1,), dict.fromkeys(range(many), 1), iter(good)]
+
+
+def wrong_places_lists(size):
+    """Values of many kinds that are no rising list of unlike places below the size, which is at least 3."""
+    return [None, True, 0, "", "01", {}, {0: 1}, {0, 1}, object(), Ratio(0), range(2), [1, 0], [0, 0], [0, 1, 1],
+            [0, size], [size], [-1, 0], [True], [False, 1], [0, True], [Ratio(0), 1], [0, Ratio(1)], ["0", "1"],
+            [[0], [1]], (2, 1), (0, 0), [None], [0, 10 ** 30], [[0, 1]], iter([0, 1])]
 
 
 WRONG_LOTS = [[2, 0], [0, 0], [8], [0, 3], [-1], [True], [False], [0, True], [Ratio(0)], ["0"], [[0]], (1, 0), (0, 0),

@@ -183,14 +183,16 @@ class ConductTest(Case):
                 for told in (tupled, rationed):
                     self.assertEqual(call(pairs, told(room), tupled(parting)), wanted)
             self.assertEqual(best_parting(pairs, tupled(room)), best_parting(pairs, room))
-        self.assertEqual(worth(STAR, [[1, 0, 0, 0]], [[0, 1, 2]]), worth(STAR, ((Ratio(1), 0, Ratio(0), 0),), ((2, 1, 0),)))
+        self.assertEqual(worth(STAR, [[1, 0, 0, 0]], [[0, 1, 2]]),
+                         worth(STAR, ((Ratio(1), 0, Ratio(0), 0),), ((2, 1, 0),)))
 
     def test_lists_are_not_shared(self):
         found = best_parting(STAR, [IDLE[0]])
         self.assertEqual(len({id(part) for part in [found] + found}), 4)
 
     def test_wrong_values(self):
-        pairs, rooms, partings = (InvalidPairs, WRONG_PAIRS), (InvalidRoom, wrong_rooms(4)), (InvalidParting, WRONG_PARTINGS)
+        pairs, rooms = (InvalidPairs, WRONG_PAIRS), (InvalidRoom, wrong_rooms(4))
+        partings = (InvalidParting, WRONG_PARTINGS)
         for call in (part_ranks, worth, is_tight):
             self.refuses(call, {"pairs": STAR, "room": [], "parting": [[0, 1, 2]]},
                          {"pairs": pairs, "room": rooms, "parting": partings})

@@ -11,7 +11,7 @@ from pairsfree.pairs import Pairs
 from pairsfree.ratios import Ratio
 from pairsfree.steps import steps
 from tests.helper import (WRONG_PAIRS, Case, few_pairs, fraction_rows, idle, is_in_all_rooms, is_told_room, kinds,
-                          lots_behind, plain_common, plain_greatest, random_room, random_rows, rationed,
+                          lots_behind, plain_behind, plain_common, plain_greatest, random_room, random_rows, rationed,
                           sample_pairs, tupled, wrong_rooms, wrong_row)
 
 IDLE = idle(4)
@@ -84,17 +84,13 @@ class BehindTest(Case):
         chance = random.Random(43)
         for pairs in few_pairs(43):
             room = random_room(chance, pairs.size)
-            heads = [next(place for place, number in enumerate(row) if number.sign) for row in room]
-            left = [place for place in range(pairs.size) if place not in heads]
             found = behind_room(pairs, room)
             self.assertIs(type(found), Pairs)
             self.assertEqual((found.size, found.many), (pairs.size - len(room), pairs.many))
-            for pair, told in zip(pairs.told(), found.told()):
-                for row, line in zip(fraction_rows(pair), fraction_rows(told)):
-                    for head, other in zip(heads, fraction_rows(room)):
-                        times = row[head]
-                        row = [number - times * taken for number, taken in zip(row, other)]
-                    self.assertEqual(line, [row[place] for place in left])
+            self.assertEqual(found, plain_behind(pairs, room))
+            for row in random_rows(chance, pairs.size, 2):
+                if steps(pairs.size, [row]):
+                    self.assertEqual(behind_row(pairs, row), plain_behind(pairs, [row]))
 
     def test_behind_a_room(self):
         self.assertEqual(behind_room(RING, []), RING)

@@ -21,10 +21,10 @@ EIGHT = Pairs(4, [(IDLE[0], IDLE[1]), (IDLE[2], IDLE[3])] * 4)
 EIGHTS = [[0, 2, 4, 6], [1, 3, 5, 7]]
 
 
-def fractions_of_six_digits(chance, size, many):
-    """Pairs with numbers of six digits above and below the stroke."""
+def long_pairs(chance, size, many, most):
+    """Pairs with numbers up to the most above and below the stroke."""
     def row():
-        return [Ratio(chance.randint(-999999, 999999), chance.randint(900000, 999999)) for _ in range(size)]
+        return [Ratio(chance.randint(-most, most), chance.randint(most // 2, most)) for _ in range(size)]
     return Pairs(size, [(row(), row()) for _ in range(many)])
 
 
@@ -65,14 +65,17 @@ class CoreTest(Case):
 
     def test_digits(self):
         chance = random.Random(54)
-        for size, many in ((8, 1), (8, 4), (7, 4), (8, 5), (8, 7), (6, 3), (5, 3)):
-            pairs = fractions_of_six_digits(chance, size, many)
-            lot, room, parting = papers(pairs)
-            self.assertEqual(room, core(pairs))
-            self.assertTrue(is_papers(pairs, (lot, room, parting)))
-            for number in [number for row in room for number in row]:
-                self.assertLessEqual(len(str(abs(number.top))), 2000)
-                self.assertLessEqual(len(str(number.bottom)), 2000)
+        # The one of seven has just one core, with some nine hundred digits.
+        for size, many, most in ((8, 1, 10 ** 60), (8, 4, 10 ** 20), (7, 4, 10 ** 6), (8, 5, 10 ** 20), (8, 7, 10 ** 6),
+                                 (6, 3, 10 ** 20), (5, 3, 10 ** 6)):
+            pairs = long_pairs(chance, size, many, most)
+            found = papers(pairs)
+            self.assertTrue(is_papers(pairs, found))
+            room = core(pairs)
+            self.check_core(pairs, room)
+            for number in [number for row in room + found[1] for number in row]:
+                self.assertLess(abs(number.top), 10 ** 2000)
+                self.assertLess(number.bottom, 10 ** 2000)
 
 
 class BoundTest(Case):
@@ -88,7 +91,8 @@ class BoundTest(Case):
             self.assertIs(is_bound(pairs, found), True)
 
     def test_edges(self):
-        self.assertEqual([bound(Pairs(0, [])), bound(Pairs(5, [])), bound(RING)], [([], []), ([], []), ([], [[0, 1, 2]])])
+        self.assertEqual([bound(Pairs(0, [])), bound(Pairs(5, [])), bound(RING)],
+                         [([], []), ([], []), ([], [[0, 1, 2]])])
         self.assertEqual(bound(STAR), (core(STAR), [[0], [1], [2]]))
 
     def test_is_bound(self):
@@ -96,10 +100,12 @@ class BoundTest(Case):
         told = []
         for pairs in few_pairs(56, manies=(0, 1, 2, 3, 4)):
             rooms = [[], core(pairs), random_room(chance, pairs.size), idle(pairs.size)]
-            for room, parting in itertools.product(rooms, chance.sample(partings(pairs.many), max(1, min(pairs.many, 4)))):
+            some = chance.sample(partings(pairs.many), max(1, min(pairs.many, 4)))
+            for room, parting in itertools.product(rooms, some):
                 told.append(plain_worth(pairs, room, parting) == plain_greatest(pairs))
                 turned = [list(reversed(part)) for part in reversed(parting)]
-                for value in ((room, parting), (room, turned), (tupled(room), tupled(turned)), (rationed(room), parting)):
+                for value in ((room, parting), (room, turned), (tupled(room), tupled(turned)),
+                              (rationed(room), parting)):
                     self.assertIs(is_bound(pairs, value), told[-1])
         self.assertEqual(set(told), {True, False})
 
@@ -132,8 +138,8 @@ class PapersTest(Case):
     def test_first_lot(self):
         for pairs in few_pairs(57) + sample_pairs(57, 1):
             self.assertEqual(first_lot(pairs), plain_greatest_lots(pairs)[0])
-        self.assertEqual([first_lot(RING), first_lot(EIGHT), first_lot(Pairs(0, [])), first_lot(Pairs(1, [([1], [1])]))],
-                         [[0], [0, 1], [], []])
+        self.assertEqual([first_lot(RING), first_lot(EIGHT), first_lot(Pairs(0, [])),
+                          first_lot(Pairs(1, [([1], [1])]))], [[0], [0, 1], [], []])
 
     def test_papers(self):
         for pairs in few_pairs(58):
@@ -163,8 +169,9 @@ class PapersTest(Case):
     def test_only_a_tuple_of_three(self):
         lot, room, parting = [1], [[1, 0, 0, 0]], [[0], [1], [2]]
         self.assertIs(is_papers(STAR, (lot, room, parting)), True)
-        for value in ([lot, room, parting], (lot, room), (room, parting), (lot, room, parting, []), (room, lot, parting),
-                      (lot, (room, parting)), ((lot, room, parting),), {}, ([0, 1], room, parting), ([], room, parting),
+        for value in ([lot, room, parting], (lot, room), (room, parting), (lot, room, parting, []),
+                      (room, lot, parting), (lot, (room, parting)), ((lot, room, parting),), {},
+                      ([0, 1], room, parting), ([], room, parting),
                       ([], [], parting), ([True], room, parting), (lot, [[True, 0, 0, 0]], parting),
                       (lot, room, [[False], [1], [2]])):
             self.assertIs(is_papers(STAR, value), False)
@@ -177,8 +184,9 @@ class PapersTest(Case):
 
     def test_values_of_every_kind(self):
         for value in kinds() + [([], [], []), ((), (), ()), ([], [], [[]]), ([], [], [[0]]), ([0], [], [[0]])]:
-            self.assertIs(is_papers(Pairs(0, []), value), type(value) is tuple and value in (([], [], []), ((), (), ())))
-            self.assertIs(is_papers(Pairs(1, [([1], [0])]), value), type(value) is tuple and value == ([], [], [[0]]))
+            is_tuple = type(value) is tuple
+            self.assertIs(is_papers(Pairs(0, []), value), is_tuple and value in (([], [], []), ((), (), ())))
+            self.assertIs(is_papers(Pairs(1, [([1], [0])]), value), is_tuple and value == ([], [], [[0]]))
 
     def test_eight_pairs(self):
         self.assertEqual([is_papers(EIGHT, ([2, 5], [], EIGHTS)), is_papers(EIGHT, ((0, 2), [], EIGHTS)),

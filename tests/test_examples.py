@@ -82,9 +82,43 @@ WHICH = """
 [[0, 1], [0, 1], [2], True, False, 2, True]
 """
 
+SHOWN = """
+>>> from pairsfree.shown import all_paper, is_all_paper, is_none_paper, is_some_paper, is_spared_paper, none_paper, some_paper, spared_paper
+>>> two = Pairs(2, [((1, 0), (0, 1)), ((1, 1), (0, 2)), ((1, 0), (2, 0))])
+>>> [is_spared_paper(two, 0, ([1], [], [[0, 1, 2]])), is_some_paper(two, 0, ([0], [], [[0], [1], [2]])), none_paper(two, 2), all_paper(two, 0), is_none_paper(four, 2, ([0, 1], [], [[0], [1], [2]])), is_all_paper(four, 0, ([0, 1], [], [[1, 0]]))]
+[True, False, (), None, True, True]
+>>> [is_all_paper(four, 0, all_paper(four, 0)), is_none_paper(four, 2, none_paper(four, 2)), some_paper(four, 2), is_spared_paper(two, 1, spared_paper(two, 1)), is_some_paper(two, 1, some_paper(two, 1)), is_none_paper(two, 2, ([0], [], [[0, 1, 2]]))]
+[True, True, None, True, True, False]
+"""
+
+TURNED = """
+>>> from pairsfree.pairs import Pairs
+>>> from pairsfree.turned import is_trial, is_turned, rank_at, trial_numbers, turned_sum
+>>> ring = Pairs(3, [((1, 0, 0), (0, 1, 0)), ((0, 1, 0), (0, 0, 1)), ((1, 0, 0), (0, 0, 1))])
+>>> [turned_sum(ring, [1, 2, 3])[1] == turned_sum(ring, (0, 2, 0))[1], is_turned(turned_sum(ring, [1, 2, 3])), rank_at(ring, [1, 2, 3]), is_trial(ring, [0, 0, 0]), is_trial(ring, trial_numbers(ring)), is_turned([[0, 1], [1, 0]])]
+[False, True, 2, False, True, False]
+"""
+
+PFAFFIANS = """
+>>> from pairsfree.pfaffians import at_places, lot_share, pfaffian, shares
+>>> four = [[0, 1, 2, 3], [-1, 0, 4, 5], [-2, -4, 0, 6], [-3, -5, -6, 0]]
+>>> [pfaffian(four), pfaffian([]), pfaffian([[0]]), at_places(four, [0, 2]) == at_places([[0, 2], [-2, 0]], (0, 1)), lot_share(ring, [1], [1, 2]), lot_share(ring, [], []), shares(ring, [0, 2]), shares(ring, ())]
+[Ratio(8, 1), Ratio(1, 1), Ratio(0, 1), True, Ratio(1, 1), Ratio(1, 1), [([2], Ratio(1, 1))], [([], Ratio(1, 1))]]
+"""
+
+WEBS = """
+>>> from pairsfree.webs import Web, barrier, barrier_worth, is_barrier, is_matching, left_places, matching, matching_number, pieces, web_pairs
+>>> kite, star = Web(5, [(0, 1), (1, 2), (0, 2), (2, 3), (3, 4)]), Web(4, [(0, 1), (0, 2), (0, 3)])
+>>> [matching_number(kite), is_matching(kite, [0, 4]), is_matching(kite, [0, 1]), left_places(kite), pieces(kite, [3]), barrier_worth(kite, [3]), barrier_worth(kite, []), is_barrier(kite, [0])]
+[2, True, False, [0, 1, 2, 4], [[0, 1, 2], [4]], 2, 2, False]
+>>> [matching_number(star), left_places(star), is_barrier(star, barrier(star)), is_barrier(star, []), len(matching(star)), web_pairs(star).size, web_pairs(star).many]
+[1, [1, 2, 3], True, False, 1, 4, 3]
+"""
+
 EXAMPLES = (
     ("ratios", RATIOS), ("steps", STEPS), ("rooms", ROOMS), ("pairs", PAIRS), ("lots", LOTS), ("partings", PARTINGS),
-    ("bounds", BOUNDS), ("common", COMMON), ("engine", ENGINE), ("which", WHICH))
+    ("bounds", BOUNDS), ("common", COMMON), ("engine", ENGINE), ("which", WHICH), ("shown", SHOWN),
+    ("turned", TURNED), ("pfaffians", PFAFFIANS), ("webs", WEBS))
 
 
 class ExamplesTest(unittest.TestCase):

@@ -15,7 +15,7 @@ BUILTINS = set("len range enumerate zip min max sum abs sorted reversed int str 
                " ArithmeticError TypeError KeyError IndexError".split())
 METHODS = set("append clear copy count endswith extend find get index insert isalnum isalpha isdigit islower isspace"
               " isupper items join keys ljust lower lstrip partition pop remove replace reverse rfind rjust rpartition"
-              " rsplit rstrip setdefault split splitlines startswith strip update upper values zfill".split())
+              " rsplit rstrip setdefault split splitlines startswith strip update upper values zfill bit_length".split())
 # A shell, also one of doctest, keeps its last value as the builtin `_`; a loop may assign it.
 NAMES_TAKEN = set(dir(builtins)) - {"_"}
 DECORATORS = {"property", "classmethod", "staticmethod"}

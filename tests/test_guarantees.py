@@ -10,9 +10,12 @@ from pairsfree.engine import is_papers, papers
 from pairsfree.lots import greatest
 from pairsfree.partings import partings
 from pairsfree.rooms import is_held
+from pairsfree.shown import (all_paper, is_all_paper, is_none_paper, is_some_paper, is_spared_paper, none_paper,
+                             some_paper, spared_paper)
 from pairsfree.steps import steps
-from tests.helper import (few_pairs, is_in_all_rooms, lot_rows, plain_greatest, plain_partings, plain_rank,
-                          plain_worth, random_room, random_rows)
+from pairsfree.turned import rank_at, trial_numbers
+from tests.helper import (few_pairs, is_in_all_rooms, lot_rows, plain_greatest, plain_greatest_lots, plain_partings,
+                          plain_rank, plain_worth, random_room, random_rows)
 
 SMALL = {"sizes": (0, 2, 4, 6), "manies": (0, 1, 3, 4, 5)}
 
@@ -46,6 +49,25 @@ class GuaranteesTest(unittest.TestCase):
                     self.assertEqual(falls[-1], 1 if is_held(pairs.size, room, row) else 0)
                     self.assertEqual(falls[-1], greatest(pairs) - greatest(behind_row(pairs, row)))
         self.assertEqual(set(falls), {0, 1})
+
+    def test_in_all_in_none(self):
+        for pairs in few_pairs(44, **SMALL):
+            lots = plain_greatest_lots(pairs)
+            for place in range(pairs.many):
+                having = [place in lot for lot in lots]
+                for so, paper, judge in ((all(having), all_paper, is_all_paper),
+                                         (any(having), some_paper, is_some_paper),
+                                         (not all(having), spared_paper, is_spared_paper),
+                                         (not any(having), none_paper, is_none_paper)):
+                    self.assertIs(judge(pairs, place, paper(pairs, place)), so)
+                    self.assertIs(paper(pairs, place) is None, not so)
+
+    def test_turned_signs(self):
+        for pairs in few_pairs(45, sizes=(0, 2, 4, 6), manies=(0, 1, 2, 3)):
+            number = plain_greatest(pairs)
+            ranks = [rank_at(pairs, numbers) for numbers in itertools.product((-1, 0, 2), repeat=pairs.many)]
+            self.assertEqual(max(ranks), 2 * number)
+            self.assertEqual(rank_at(pairs, trial_numbers(pairs)), 2 * number)
 
 
 if __name__ == "__main__":

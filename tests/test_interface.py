@@ -17,11 +17,22 @@ FUNCTIONS = {
                  "is_finer": "pairs parting other"},
     "bounds": {"part_ranks": "pairs room parting", "worth": "pairs room parting", "least_worth": "pairs room",
                "best_parting": "pairs room", "is_tight": "pairs room parting"},
-    "common": {"common_room": "pairs", "is_common": "pairs row", "behind_row": "pairs row", "behind_room": "pairs room"},
+    "common": {"common_room": "pairs", "is_common": "pairs row", "behind_row": "pairs row",
+               "behind_room": "pairs room"},
     "engine": {"core": "pairs", "bound": "pairs", "is_bound": "pairs value", "first_lot": "pairs", "papers": "pairs",
                "is_papers": "pairs value"},
     "which": {"in_all": "pairs", "in_some": "pairs", "in_none": "pairs", "falls": "pairs place",
               "without": "pairs place", "put_in": "pairs pair"},
+    "shown": {"all_paper": "pairs place", "spared_paper": "pairs place", "some_paper": "pairs place",
+              "none_paper": "pairs place", "is_all_paper": "pairs place value", "is_spared_paper": "pairs place value",
+              "is_some_paper": "pairs place value", "is_none_paper": "pairs place value"},
+    "turned": {"is_turned": "value", "turned_sum": "pairs numbers", "rank_at": "pairs numbers",
+               "trial_numbers": "pairs", "is_trial": "pairs value"},
+    "pfaffians": {"pfaffian": "table", "at_places": "table places", "lot_share": "pairs lot places",
+                  "shares": "pairs places"},
+    "webs": {"web_pairs": "web", "is_matching": "web value", "matching_number": "web", "matching": "web",
+             "pieces": "web places", "barrier_worth": "web places", "barrier": "web", "is_barrier": "web value",
+             "left_places": "web"},
 }
 
 METHODS = {
@@ -34,6 +45,9 @@ METHODS = {
     "pairs": {"Pairs": {
         "__init__": "self size rows", "size": "self", "many": "self", "pair": "self place", "told": "self",
         "lot_rows": "self lot", "__eq__": "self other", "__repr__": "self"}},
+    "webs": {"Web": {
+        "__init__": "self size ties", "size": "self", "many": "self", "ties": "self", "__eq__": "self other",
+        "__repr__": "self"}},
 }
 
 

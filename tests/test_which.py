@@ -24,7 +24,8 @@ def wrong_pairs_of_rows(size):
     row = [0] * size
     return [None, True, 0, "", "00", {}, {0: row, 1: row}, set(), object(), Ratio(1), range(2), [], (), [row], (row,),
             [row, row, row], (row, row, row), [(row, row)], row, Pairs(size, [(row, row)]), [row, None], (None, row),
-            iter([row, row])] + [(row, value) for value in wrong_row(size)] + [[value, row] for value in wrong_row(size)]
+            iter([row, row])] + [(row, value) for value in wrong_row(size)] + [
+            [value, row] for value in wrong_row(size)]
 
 
 class WhichTest(Case):
