@@ -1,7 +1,7 @@
 """Bounds of pairs: a room with a parting, what it is worth, and the least worth for a room."""
 
 from pairsfree.errors import TooMany
-from pairsfree.lots import greatest
+from pairsfree.lots import all_lots, greatest
 from pairsfree.pairs import check_pairs
 from pairsfree.partings import all_partings, told_parting
 from pairsfree.rooms import check_room
@@ -57,7 +57,4 @@ def part_rank(pairs, room, part):
 
 def half_ranks(pairs, room):
     """Half of the rank behind the room, rounded down, of each part that there can be, told as a tuple."""
-    parts = [[]]
-    for place in range(pairs.many):
-        parts = parts + [[*part, place] for part in parts]
-    return {tuple(part): part_rank(pairs, room, part) // 2 for part in parts}
+    return {tuple(part): part_rank(pairs, room, part) // 2 for part in all_lots(pairs.many)}

@@ -38,6 +38,11 @@ def is_rising(many, value):
     return is_positions(many, value) and list(value) == sorted(set(value))
 
 
+def is_rising_tuple(many, length, value):
+    """Whether any value is a tuple of so many unlike positions of so many things, rising: so a tie is."""
+    return isinstance(value, tuple) and len(value) == length and is_rising(many, value)
+
+
 def is_split(many, value):
     """Whether any value is a list of parts, none empty, that have each of so many positions once: so a parting is."""
     if not is_list(value) or not all([is_positions(many, part) and len(part) > 0 for part in value]):

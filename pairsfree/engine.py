@@ -5,7 +5,7 @@ from pairsfree.common import behind_room, common_room
 from pairsfree.lots import greatest, greatest_lots, is_free, is_lot
 from pairsfree.pairs import check_pairs
 from pairsfree.partings import is_parting
-from pairsfree.rooms import ahead, is_held, is_room
+from pairsfree.rooms import ahead, is_held_row, is_room
 from pairsfree.steps import steps
 
 
@@ -73,11 +73,6 @@ def shared_row(pairs, own_first):
 def longest_number(room):
     """How many binary digits the longest number of the room has above and below the stroke; 0 for nothing."""
     return max([number.top.bit_length() + number.bottom.bit_length() for row in room for number in row], default=0)
-
-
-def is_held_row(size, room, row):
-    """Whether the room holds the row, and it is not all noughts."""
-    return any([number.sign != 0 for number in row]) and is_held(size, room, row)
 
 
 def is_lot_with_bound(pairs, bounded, value):

@@ -59,6 +59,14 @@ def handed(pairs, lot, other):
     return [place for place in other if place not in lot and is_free(pairs, sorted([*lot, place]))]
 
 
+def all_lots(many):
+    """The list of all rising lists of unlike positions of so many."""
+    found = [[]]
+    for place in range(many):
+        found = found + [[*lot, place] for lot in found]
+    return found
+
+
 def longer_lots(pairs, lots):
     """The sorted list of the free lots with one position more: these are all free lots of one length, sorted."""
     # Each lot within a free lot is free, so none is missed if each is made longer at its end alone.

@@ -59,6 +59,11 @@ def beside(size, room):
     return [idle_row(size, place) for place in places_without_head(size, room)]
 
 
+def is_held_row(size, room, row):
+    """Whether the room holds the row, and it is not all noughts: InvalidSize; InvalidRoom; InvalidRow."""
+    return is_held(size, room, row) and any([as_ratio(number).sign != 0 for number in row])
+
+
 def check_two_rooms(size, room, other):
     """InvalidSize unless a size; InvalidRoom, of the first one first, unless both are rooms of it."""
     check_room(size, room)

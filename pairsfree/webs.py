@@ -1,6 +1,6 @@
 """Webs of places and ties: matchings, pieces and barriers."""
 
-from pairsfree.checks import check_places, check_size, is_list, is_positions, is_rising
+from pairsfree.checks import check_places, check_size, is_list, is_rising, is_rising_tuple
 from pairsfree.errors import InvalidTies, InvalidWeb
 from pairsfree.lots import greatest, greatest_lots
 from pairsfree.pairs import Pairs
@@ -15,7 +15,7 @@ class Web:
 
     def __init__(self, size, ties):
         check_size(size, MOST_PLACES)
-        if not is_list(ties) or len(ties) > MOST_TIES or not all([is_tie(size, tie) for tie in ties]):
+        if not is_list(ties) or len(ties) > MOST_TIES or not all([is_rising_tuple(size, 2, tie) for tie in ties]):
             raise InvalidTies(ties)
         self._size = size
         self._ties = [(i, j) for i, j in ties]
@@ -105,11 +105,6 @@ def check_web(web):
     """InvalidWeb unless a Web."""
     if not isinstance(web, Web):
         raise InvalidWeb(web)
-
-
-def is_tie(size, value):
-    """Whether any value is a tuple of two places out of so many, the first one less."""
-    return isinstance(value, tuple) and len(value) == 2 and is_positions(size, value) and value[0] < value[1]
 
 
 def tied_places(web, lot):

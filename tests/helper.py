@@ -6,6 +6,7 @@ import random
 import unittest
 from fractions import Fraction
 
+from pairsfree.frames import Frame
 from pairsfree.pairs import Pairs
 from pairsfree.ratios import Ratio
 from pairsfree.steps import steps
@@ -404,3 +405,48 @@ WRONG_PARTINGS = [[], [[0], [1]], [[0, 1], [1, 2]], [[0, 1, 2], []], [[], [0, 1,
                   [{0, 1, 2}], [range(3)], range(3), object(), [[0, 1, -1]], [[0, 1, [2]]], ((0, 1), (1, 2)), (),
                   [[0, 1, 2, 10 ** 30]], [[0], [1], [2], [2]], [{0: 0, 1: 1, 2: 2}], iter([[0, 1, 2]])]
 WRONG_PAIRS = [None, True, 0, 3, "", "Pairs(0, [])", [], [([1], [0])], (1, [([1], [0])]), {}, Ratio(1), Pairs, object()]
+WRONG_FRAMES = [None, True, 0, "", "Frame([], [])", [], ([], []), {}, Ratio(1), object(), Pairs(0, [])]
+
+
+def random_frame(chance, many, bars):
+    """Some frame of so many points, some of them at one place or on one line, and of so many bars, some alike."""
+    places = [(chance.randint(-1, 2), chance.choice([0, 0, 1, 2, Ratio(1, 2)])) for _ in range(many)]
+    points = [chance.choice(places) for _ in range(many)] if chance.random() < 0.3 else places
+    ties = [tuple(sorted(chance.sample(range(many), 2))) for _ in range(bars)] if many > 1 else []
+    return Frame(points, ties)
+
+
+def sample_frames(seed, times=2):
+    """Frames of all numbers of points and of bars; the same at each call."""
+    chance = random.Random(seed)
+    return [random_frame(chance, many, bars) for many in range(6) for bars in (0, 1, 2, 3, 5, 7, 8)
+            for _ in range(times if many > 1 else 1)]
+
+
+def plain_table(frame):
+    """The table of the frame by the words; Fractions."""
+    points, table = fraction_rows(frame.points()), []
+    for i, j in frame.bars():
+        row = [Fraction(0)] * (2 * len(points))
+        for axis in (0, 1):
+            row[2 * i + axis] += points[i][axis] - points[j][axis]
+            row[2 * j + axis] -= points[i][axis] - points[j][axis]
+        table.append(row)
+    return table
+
+
+def pinned_rows(frame, pins):
+    """The rows of which each move makes 0 with: those of the table, and 1 at each place of each pin."""
+    rows = plain_table(frame)
+    return rows + [row for at, row in enumerate(idle(2 * frame.many)) if at // 2 in pins]
+
+
+def plain_stands(frame, pins):
+    """Whether the frame has no move with the pins, by a rank."""
+    return plain_rank(pinned_rows(frame, pins)) == 2 * frame.many
+
+
+def plain_fewest(frame):
+    """The fewest pins, by going through all of them."""
+    return min(many for many in range(frame.many + 1) for pins in itertools.combinations(range(frame.many), many)
+               if plain_stands(frame, pins))

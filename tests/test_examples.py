@@ -115,10 +115,47 @@ WEBS = """
 [1, [1, 2, 3], True, False, 1, 4, 3]
 """
 
+HOUSES = """
+>>> from pairsfree.houses import both_free, cover, cover_worth, house_pairs, is_cover
+>>> from pairsfree.pairs import Pairs
+>>> first, second = [[1, 0], [2, 0], [0, 1]], [[1], [0], [3]]
+>>> [both_free(first, second), cover_worth(first, second, []), cover_worth(first, second, [0, 1]), is_cover(first, second, cover(first, second)), is_cover(first, second, [0, 2])]
+[1, 1, 2, True, False]
+>>> [house_pairs([[0, 1]], [[3]]) == Pairs(3, [([0, 1, 0], [0, 0, 3])]), both_free([], []), both_free([[1], [1]], [[1, 0], [0, 1]]), cover([], [])]
+[True, 0, 1, []]
+"""
+
+THREES = """
+>>> from pairsfree.pairs import Pairs
+>>> from pairsfree.threes import has_ring, ringless, ringless_number, spans, three_pairs
+>>> [three_pairs(3, [(0, 1, 2)]) == Pairs(3, [([1, -1, 0], [1, 0, -1])]), has_ring(5, [(0, 1, 2), (2, 3, 4)]), has_ring(5, [(0, 1, 2), (0, 1, 3)]), ringless(5, [(0, 1, 2), (2, 3, 4), (1, 2, 3)])]
+[True, False, True, [0, 1]]
+>>> [ringless_number(6, [(0, 1, 2), (0, 1, 3), (3, 4, 5)]), spans(5, [(0, 1, 2), (2, 3, 4)]), spans(6, [(0, 1, 2), (3, 4, 5)]), spans(0, []), spans(1, []), ringless_number(2, [])]
+[2, True, False, True, True, 0]
+"""
+
+FRAMES = """
+>>> from pairsfree.frames import Frame, bar_table, frame_pairs
+>>> three = Frame([(0, 0), (1, 0), (0, 1)], [(0, 1), (0, 2), (1, 2)])
+>>> [three.many, three.bars(), [str(number) for number in bar_table(three)[2]], frame_pairs(three) == Pairs(3, [([-1, 0, 0], [0, -1, 0]), ([1, 0, 1], [0, 0, -1]), ([0, 0, -1], [0, 1, 1])])]
+[3, [(0, 1), (0, 2), (1, 2)], ['0', '0', '1', '-1', '-1', '1'], True]
+>>> [frame_pairs(Frame([(0, 0)], [])).size, frame_pairs(Frame([], [])).many, Frame([(0, 0)], []) == Frame([], [])]
+[0, 0, False]
+"""
+
+PINS = """
+>>> from pairsfree.pins import fewest_pins, is_move, is_pins, moves, pins, stands
+>>> [[[str(number) for number in row] for row in moves(three, [0])], len(moves(three, [])), stands(three, [0]), stands(three, [0, 1]), is_move(three, [0], [0, 0, 0, 2, -2, 0]), is_move(three, [0], [0] * 6)]
+[[['0', '0', '0', '1', '-1', '0']], 3, False, True, True, False]
+>>> [fewest_pins(three), len(pins(three)), is_pins(three, pins(three)), is_pins(three, [0, 1, 2]), is_pins(three, [1, 0]), fewest_pins(Frame([(0, 0), (0, 0)], [(0, 1)])), fewest_pins(Frame([], []))]
+[2, 2, True, True, False, 2, 0]
+"""
+
 EXAMPLES = (
     ("ratios", RATIOS), ("steps", STEPS), ("rooms", ROOMS), ("pairs", PAIRS), ("lots", LOTS), ("partings", PARTINGS),
     ("bounds", BOUNDS), ("common", COMMON), ("engine", ENGINE), ("which", WHICH), ("shown", SHOWN),
-    ("turned", TURNED), ("pfaffians", PFAFFIANS), ("webs", WEBS))
+    ("turned", TURNED), ("pfaffians", PFAFFIANS), ("webs", WEBS), ("houses", HOUSES), ("threes", THREES),
+    ("frames", FRAMES), ("pins", PINS))
 
 
 class ExamplesTest(unittest.TestCase):

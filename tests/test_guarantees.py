@@ -7,15 +7,17 @@ import unittest
 from pairsfree.bounds import worth
 from pairsfree.common import behind_row, common_room
 from pairsfree.engine import is_papers, papers
+from pairsfree.frames import frame_pairs
 from pairsfree.lots import greatest
 from pairsfree.partings import partings
+from pairsfree.pins import fewest_pins, is_pins, pins
 from pairsfree.rooms import is_held
 from pairsfree.shown import (all_paper, is_all_paper, is_none_paper, is_some_paper, is_spared_paper, none_paper,
                              some_paper, spared_paper)
 from pairsfree.steps import steps
 from pairsfree.turned import rank_at, trial_numbers
-from tests.helper import (few_pairs, is_in_all_rooms, lot_rows, plain_greatest, plain_greatest_lots, plain_partings,
-                          plain_rank, plain_worth, random_room, random_rows)
+from tests.helper import (few_pairs, is_in_all_rooms, lot_rows, plain_fewest, plain_greatest, plain_greatest_lots,
+                          plain_partings, plain_rank, plain_worth, random_room, random_rows, sample_frames)
 
 SMALL = {"sizes": (0, 2, 4, 6), "manies": (0, 1, 3, 4, 5)}
 
@@ -68,6 +70,16 @@ class GuaranteesTest(unittest.TestCase):
             ranks = [rank_at(pairs, numbers) for numbers in itertools.product((-1, 0, 2), repeat=pairs.many)]
             self.assertEqual(max(ranks), 2 * number)
             self.assertEqual(rank_at(pairs, trial_numbers(pairs)), 2 * number)
+
+    def test_fewest_pins(self):
+        found = []
+        for frame in sample_frames(46, 4):
+            found.append(plain_fewest(frame))
+            self.assertEqual(fewest_pins(frame), found[-1])
+            self.assertEqual(frame.many - plain_greatest(frame_pairs(frame)), found[-1])
+            self.assertTrue(is_pins(frame, pins(frame)))
+            self.assertEqual(len(pins(frame)), found[-1])
+        self.assertEqual(set(found), {0, 1, 2, 3, 4, 5})
 
 
 if __name__ == "__main__":

@@ -33,6 +33,13 @@ FUNCTIONS = {
     "webs": {"web_pairs": "web", "is_matching": "web value", "matching_number": "web", "matching": "web",
              "pieces": "web places", "barrier_worth": "web places", "barrier": "web", "is_barrier": "web value",
              "left_places": "web"},
+    "houses": {"house_pairs": "first second", "both_free": "first second", "cover_worth": "first second places",
+               "cover": "first second", "is_cover": "first second value"},
+    "threes": {"three_pairs": "size threes", "has_ring": "size threes", "ringless": "size threes",
+               "ringless_number": "size threes", "spans": "size threes"},
+    "frames": {"bar_table": "frame", "frame_pairs": "frame"},
+    "pins": {"moves": "frame pins", "stands": "frame pins", "is_move": "frame pins value", "fewest_pins": "frame",
+             "pins": "frame", "is_pins": "frame value"},
 }
 
 METHODS = {
@@ -47,6 +54,9 @@ METHODS = {
         "lot_rows": "self lot", "__eq__": "self other", "__repr__": "self"}},
     "webs": {"Web": {
         "__init__": "self size ties", "size": "self", "many": "self", "ties": "self", "__eq__": "self other",
+        "__repr__": "self"}},
+    "frames": {"Frame": {
+        "__init__": "self points bars", "many": "self", "points": "self", "bars": "self", "__eq__": "self other",
         "__repr__": "self"}},
 }
 
