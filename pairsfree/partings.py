@@ -16,7 +16,7 @@ def told_parting(pairs, parting):
     """The same parting with rising parts, sorted: InvalidPairs; InvalidParting."""
     check_pairs(pairs)
     check_parting(pairs.many, parting)
-    return sorted([sorted(part) for part in parting])
+    return told_parts(parting)
 
 
 def partings(many):
@@ -31,6 +31,11 @@ def is_finer(pairs, parting, other):
     check_parting(pairs.many, parting)
     check_parting(pairs.many, other)
     return all([lies_in_one(part, other) for part in parting])
+
+
+def told_parts(parting):
+    """The parts of the parting, each rising, sorted."""
+    return sorted([sorted(part) for part in parting])
 
 
 def all_partings(many):

@@ -6,10 +6,12 @@ import random
 import unittest
 from fractions import Fraction
 
+from pairsfree.errors import NothingToRedo
 from pairsfree.frames import Frame
 from pairsfree.pairs import Pairs
 from pairsfree.ratios import Ratio
 from pairsfree.steps import steps
+from pairsfree.webs import Web
 
 
 def kinds():
@@ -450,3 +452,81 @@ def plain_fewest(frame):
     """The fewest pins, by going through all of them."""
     return min(many for many in range(frame.many + 1) for pins in itertools.combinations(range(frame.many), many)
                if plain_stands(frame, pins))
+
+
+def some_numbers(chance, most):
+    """Some list of numbers, at most so many."""
+    many = chance.choice([0, 1, 2, most, chance.randint(0, most)])
+    fractions = [Ratio(chance.randint(-99, 99), chance.randint(1, 99)) for _ in range(many)]
+    return [chance.choice([0, 1, -1, chance.randint(-999999, 999999), fraction]) for fraction in fractions]
+
+
+def some_parting(chance):
+    """Some parting of at most eight positions, in whatever sequence."""
+    parts = {}
+    for place in chance.sample(range(8), 8):
+        parts.setdefault(chance.randint(0, 3), []).append(place)
+    many = chance.randint(0, 8)
+    kept = [[place for place in part if place < many] for part in parts.values()]
+    return [part for part in kept if part]
+
+
+def some_web(chance):
+    """Some web of at most eight places and eight ties."""
+    size = chance.randint(0, 8)
+    return Web(size, [tuple(sorted(chance.sample(range(size), 2))) for _ in range(chance.randint(0, 8)) if size > 1])
+
+
+def some_value(chance, sort):
+    """Some value of the sort."""
+    if sort == "numbers":
+        return some_numbers(chance, 40)
+    if sort == "row":
+        return some_numbers(chance, 8)
+    if sort == "lot":
+        return sorted(chance.sample(range(8), chance.randint(0, 8)))
+    if sort == "parting":
+        return some_parting(chance)
+    if sort == "room":
+        size = chance.randint(0, 8)
+        return size, random_room(chance, size)
+    if sort == "pairs":
+        return random_pairs(chance, chance.randint(0, 8), chance.randint(0, 8))
+    if sort == "web":
+        return some_web(chance)
+    return random_frame(chance, chance.randint(0, 5), chance.randint(0, 8))
+
+
+EIGHT = [0, 1, -2, Ratio(3, 4), 5, 6, 7, 8]
+ALL_SORTS = ["numbers", "row", "lot", "parting", "room", "pairs", "web", "frame"]
+# By sort: values of it, told so that a text is single; the least ones and the greatest ones among them.
+EDGES = {
+    "numbers": [[], [Ratio(0)], [Ratio(-5, 7)] * 40],
+    "row": [[], [Ratio(0)], [Ratio(-999999, 999998)] * 8],
+    "lot": [[], [0], [7], [0, 1, 2, 3, 4, 5, 6, 7]],
+    "parting": [[], [[0]], [[0, 1, 2, 3, 4, 5, 6, 7]], [[0, 7], [1, 6], [2, 3], [4], [5]],
+                [[place] for place in range(8)]],
+    "room": [(0, []), (8, []), (1, [[Ratio(1)]]), (8, rationed(idle(8))), (3, rationed([[0, 1, Ratio(1, 2)]]))],
+    "pairs": [Pairs(0, []), Pairs(8, []), Pairs(0, [([], [])] * 8), Pairs(8, [(EIGHT, EIGHT)] * 8)],
+    "web": [Web(0, []), Web(8, []), Web(8, [(0, 7), (6, 7), (0, 1), (0, 1), (2, 3), (3, 4), (0, 7), (1, 2)])],
+    "frame": [Frame([], []), Frame([(0, 0)], []), Frame([(Ratio(1, 2), -3)] * 5, [(0, 4), (3, 4)] * 4)],
+}
+
+
+def whole(desk):
+    """All that can be told of a desk, what can be taken back and done again and what fits included."""
+    names, labels = desk.names, desk.labels
+    told = [names, labels, [repr(desk[name]) for name in names], [repr(desk.claim_of(label)) for label in labels],
+            [desk.do("state " + label) for label in labels], [desk.do("claimed " + label) for label in labels],
+            [desk.fits(label) for label in labels], desk.lines(), len(desk)]
+    return told + [again_lines(desk)]
+
+
+def again_lines(desk):
+    """The lines that can be done again, told by a copy that does it."""
+    copied, found = desk.copy(), []
+    while True:
+        try:
+            found.append(copied.do("redo"))
+        except NothingToRedo:
+            return found

@@ -151,11 +151,51 @@ PINS = """
 [2, 2, True, True, False, 2, 0]
 """
 
+TEXTS = """
+>>> from pairsfree.pairs import Pairs
+>>> from pairsfree.ratios import Ratio
+>>> from pairsfree.texts import is_of_sort, written
+>>> [written("row", [1, Ratio(-3, 2)]), written("parting", [[2, 1], [0]]), written("room", (2, [[1, 2]])), written("pairs", Pairs(1, [([1], [0])])), is_of_sort("lot", [1, 0])]
+['row 1 -3/2\\n', 'parting\\npart 0\\npart 1 2\\n', 'room 2\\nrow 1 2\\n', 'pairs 1\\nfirst 1\\nsecond 0\\n', False]
+"""
+
+READERS = """
+>>> from pairsfree.readers import read
+>>> from pairsfree.webs import Web
+>>> [read("lot 0 2\\n"), read("parting\\npart 0 1\\n"), read("room 2\\n"), read("row 1/2\\n"), read("web 3\\ntie 0 2\\n") == ("web", Web(3, [(0, 2)]))]
+[('lot', [0, 2]), ('parting', [[0, 1]]), ('room', (2, [])), ('row', [Ratio(1, 2)]), True]
+"""
+
+CLAIMS = """
+>>> from pairsfree.claims import contrary, is_claim, is_paper_of, is_true
+>>> three = Pairs(3, [([1, 0, 0], [0, 1, 0]), ([0, 1, 0], [0, 0, 1]), ([1, 0, 0], [0, 0, 1])])
+>>> [is_true(("atleast", three, 2)), is_paper_of(("atleast", three, 1), [2]), is_paper_of(("below", three, 2), ([], [[0, 1, 2]])), is_paper_of(("below", three, 2), ([], [[0, 1], [2]])), contrary(("inall", three, 0)) == ("spared", three, 0)]
+[False, True, True, False, True]
+>>> [is_claim(("inall", three, 3)), is_paper_of(("matches", Web(3, [(0, 1), (1, 2)]), 1), [1]), is_paper_of(("short", Web(3, [(0, 1), (1, 2)]), 2), [1]), is_claim(("atleast", three, True))]
+[False, True, True, False]
+"""
+
+COMMANDS = """
+>>> from pairsfree.commands import is_command, is_deed
+>>> [is_command("pairs p 2 1,0:0,1/2"), is_command("pairs p 2 1,0"), is_deed("claim k inall p 0"), is_command("free p -"), is_deed("undo")]
+[True, False, True, True, False]
+"""
+
+DESK = """
+>>> from pairsfree.desk import Desk
+>>> desk = Desk()
+>>> desk.do_all("web w 5 0:1;1:2;0:2;2:3;3:4", "claim k matches w 2", "ofweb p w", "greatest p", "lot p", "some p", "claim m inall p 3", "left w", "cut w 4", "cut w 3")
+['-', 'k true', '-', '2', '0,3', '0,1,2,3,4', 'm false', '0,1,2,4', '-', 'k false']
+>>> desk.do_all("undo", "states", "pairs q 2 1,0:0,1;1,1:1,2", "common c q", "show c", "pair q 1 1,0 0,0", "none q", "show w")
+['cut w 3', 'k true, m false', '-', '-', '2 1,0;0,1', '-', '1', '5 0:1;1:2;0:2;2:3']
+"""
+
 EXAMPLES = (
     ("ratios", RATIOS), ("steps", STEPS), ("rooms", ROOMS), ("pairs", PAIRS), ("lots", LOTS), ("partings", PARTINGS),
     ("bounds", BOUNDS), ("common", COMMON), ("engine", ENGINE), ("which", WHICH), ("shown", SHOWN),
     ("turned", TURNED), ("pfaffians", PFAFFIANS), ("webs", WEBS), ("houses", HOUSES), ("threes", THREES),
-    ("frames", FRAMES), ("pins", PINS))
+    ("frames", FRAMES), ("pins", PINS), ("texts", TEXTS), ("readers", READERS), ("claims", CLAIMS),
+    ("commands", COMMANDS), ("desk", DESK))
 
 
 class ExamplesTest(unittest.TestCase):

@@ -15,12 +15,13 @@ BUILTINS = set("len range enumerate zip min max sum abs sorted reversed int str 
                " ArithmeticError TypeError KeyError IndexError".split())
 METHODS = set("append clear copy count endswith extend find get index insert isalnum isalpha isdigit islower isspace"
               " isupper items join keys ljust lower lstrip partition pop remove replace reverse rfind rjust rpartition"
-              " rsplit rstrip setdefault split splitlines startswith strip update upper values zfill bit_length".split())
+              " rsplit rstrip setdefault split splitlines startswith strip update upper values zfill"
+              " bit_length".split())
 # A shell, also one of doctest, keeps its last value as the builtin `_`; a loop may assign it.
 NAMES_TAKEN = set(dir(builtins)) - {"_"}
 DECORATORS = {"property", "classmethod", "staticmethod"}
 NODES_BARRED = (ast.GeneratorExp, ast.Global, ast.AsyncFunctionDef, ast.Await, ast.Div, ast.MatMult, ast.Yield,
-                ast.Import, ast.SetComp, ast.Set, ast.Try, ast.With)
+                ast.Import, ast.SetComp, ast.Set)
 WORDS_BARRED = set("type typing enum open input register mro elements law eval exec globals locals vars".split())
 
 
@@ -52,6 +53,16 @@ def defined(tree):
         elif isinstance(node, ast.Assign):
             names.extend(target.id for target in node.targets)
     return names
+
+
+def is_plain(node, own):
+    """Whether a value at the level of the module is plain: constants, own functions, tuples; dicts of these outside."""
+    if isinstance(node, ast.Dict):
+        return all(isinstance(key, ast.Constant) for key in node.keys) and all(
+            is_plain(value, own) and not isinstance(value, ast.Dict) for value in node.values)
+    if isinstance(node, ast.Tuple):
+        return all(is_plain(part, own) and not isinstance(part, ast.Dict) for part in node.elts)
+    return isinstance(node, ast.Constant) or (isinstance(node, ast.Name) and node.id in own)
 
 
 def local_names(tree):
@@ -95,11 +106,41 @@ class FormTest(unittest.TestCase):
 
     def test_module_level(self):
         def check(name, tree):
+            own = []
             for node in tree.body:
                 docstring = isinstance(node, ast.Expr) and isinstance(node.value, ast.Constant)
-                plain = isinstance(node, ast.Assign) and len(node.targets) == 1 and isinstance(node.value, ast.Constant)
+                plain = isinstance(node, ast.Assign) and len(node.targets) == 1 and is_plain(node.value, own)
                 kinds = (ast.ImportFrom, ast.FunctionDef, ast.ClassDef)
                 self.assertTrue(docstring or plain or isinstance(node, kinds), ast.unparse(node))
+                if isinstance(node, ast.FunctionDef):
+                    own.append(node.name)
+        self.each(check)
+
+    def test_tables_are_only_read(self):
+        def check(name, tree):
+            tables = {node.targets[0].id for node in tree.body
+                      if isinstance(node, ast.Assign) and isinstance(node.value, ast.Dict)}
+            read = {node.id for part in ast.walk(tree) for node in ast.iter_child_nodes(part)
+                    if isinstance(node, ast.Name) and isinstance(node.ctx, ast.Load)
+                    and not (isinstance(part, ast.Subscript) and isinstance(part.ctx, ast.Load))
+                    and not (isinstance(part, ast.Compare) and isinstance(part.ops[0], (ast.In, ast.NotIn)))}
+            self.assertEqual(tables & read, set())
+            called = [node for node in ast.walk(tree) if isinstance(node, ast.Call)
+                      and isinstance(node.func, (ast.Subscript, ast.Call))]
+            self.assertEqual(called, [])
+        self.each(check)
+
+    def test_handlers_and_blocks(self):
+        def check(name, tree):
+            for node in ast.walk(tree):
+                if isinstance(node, ast.Try):
+                    caught = ", ".join(ast.unparse(handler.type).strip("()") for handler in node.handlers).split(", ")
+                    self.assertEqual((set(caught) & NAMES_TAKEN, node.finalbody), (set(), []))
+                if isinstance(node, ast.With):
+                    self.assertEqual([ast.unparse(part.context_expr) for part in node.items], ["Trial(desk)"])
+                if isinstance(node, ast.FunctionDef) and node.name == "__exit__":
+                    self.assertEqual([ast.unparse(part) for part in node.body],
+                                     ["desk = self._desk", "desk._page = self._kept"])
         self.each(check)
 
     def test_imports(self):

@@ -40,12 +40,14 @@ class FrameTest(Case):
         self.assertIs(THREE == Frame([(Ratio(0), 0), (1, 0), (0, Ratio(3, 3))], tuple(BARS)), True)
         self.assertIs(THREE != Frame(POINTS, BARS), False)
         for other in [Frame(POINTS, BARS[:2]), Frame(POINTS[::-1], BARS), Frame(POINTS, BARS[::-1]),
-                      Frame(POINTS + [(0, 0)], BARS), Frame([(0, 0), (1, 0), (0, 2)], BARS), Frame([], []), (POINTS, BARS),
+                      Frame(POINTS + [(0, 0)], BARS), Frame([(0, 0), (1, 0), (0, 2)], BARS), Frame([], []),
+                      (POINTS, BARS),
                       repr(THREE), frame_pairs(THREE), bar_table(THREE)] + kinds():
             self.assertIs(THREE == other, False)
             self.assertIs(other == THREE, False)
             self.assertIs(THREE != other, True)
-        self.assertEqual([Frame([], []) == Frame((), ()), Frame([(0, 0)], []) == Frame([(0, 0)] * 2, [])], [True, False])
+        self.assertEqual([Frame([], []) == Frame((), ()), Frame([(0, 0)], []) == Frame([(0, 0)] * 2, [])],
+                         [True, False])
 
     def test_never_changes(self):
         points, bars = list(POINTS), list(BARS)

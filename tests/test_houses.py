@@ -14,10 +14,13 @@ from pairsfree.steps import steps
 from tests.helper import Case, kinds, plain_rank, random_rows, rationed, tupled, wrong_places_lists
 
 FIRST, SECOND = [[1, 0], [2, 0], [0, 1]], [[1], [0], [3]]
-WRONG_HOUSES = [None, True, 0, 3, "", "000", {}, {0: [1]}, set(), object(), Ratio(1), range(3), [1, 2, 3], [[1], [2], 3],
-                [[1], [2], [3, 4]], [[], [1], [2]], [[1], [2], []], [[1] * 5] * 3, [[1], [True], [2]], [[False], [1], [1]],
+WRONG_HOUSES = [None, True, 0, 3, "", "000", {}, {0: [1]}, set(), object(), Ratio(1), range(3), [1, 2, 3],
+                [[1], [2], 3],
+                [[1], [2], [3, 4]], [[], [1], [2]], [[1], [2], []], [[1] * 5] * 3, [[1], [True], [2]],
+                [[False], [1], [1]],
                 [[1], [2], None], [["1"], ["2"], ["3"]], [[1], [2], [None]], [[[1]]] * 3, [[0]] * 9, tuple([[0]] * 9),
-                iter([[1], [2], [3]]), [[1], [2], "3"], [[1], [2], {3: 1}], Pairs(1, [([0], [1])]), ((1,), (1, 2), (3,))]
+                iter([[1], [2], [3]]), [[1], [2], "3"], [[1], [2], {3: 1}], Pairs(1, [([0], [1])]),
+                ((1,), (1, 2), (3,))]
 
 
 def sample_houses(seed, times=2):

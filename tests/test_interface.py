@@ -40,6 +40,12 @@ FUNCTIONS = {
     "frames": {"bar_table": "frame", "frame_pairs": "frame"},
     "pins": {"moves": "frame pins", "stands": "frame pins", "is_move": "frame pins value", "fewest_pins": "frame",
              "pins": "frame", "is_pins": "frame value"},
+    "texts": {"sorts": "", "is_of_sort": "sort value", "written": "sort value"},
+    "readers": {"read": "text"},
+    "claims": {"words": "", "is_claim": "value", "is_true": "claim", "contrary": "claim", "paper_of": "claim",
+               "is_paper_of": "claim value"},
+    "commands": {"is_name": "value", "is_command": "value", "is_deed": "value"},
+    "desk": {"tried": "desk action"},
 }
 
 METHODS = {
@@ -58,11 +64,19 @@ METHODS = {
     "frames": {"Frame": {
         "__init__": "self points bars", "many": "self", "points": "self", "bars": "self", "__eq__": "self other",
         "__repr__": "self"}},
+    "desk": {
+        "Desk": {
+            "__init__": "self", "names": "self", "labels": "self", "__len__": "self", "__getitem__": "self name",
+            "__contains__": "self value", "claim_of": "self label", "do": "self command", "__call__": "self command",
+            "do_all": "self *commands", "attempt": "self *commands", "attach": "self label paper", "fits": "self label",
+            "lines": "self", "copy": "self", "again": "cls lines"},
+        "Trial": {"__init__": "self desk", "__enter__": "self", "__exit__": "self kind value trace"}},
 }
 
 
 def parameters(node):
-    return " ".join(part.arg for part in node.args.args)
+    rest = ["*" + node.args.vararg.arg] if node.args.vararg else []
+    return " ".join([part.arg for part in node.args.args] + rest)
 
 
 def parts_of(body, kind):

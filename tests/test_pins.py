@@ -12,13 +12,15 @@ from pairsfree.lots import greatest
 from pairsfree.pins import fewest_pins, is_move, is_pins, moves, pins, stands
 from pairsfree.ratios import Ratio
 from tests.helper import (WRONG_FRAMES, Case, fraction_rows, is_told_room, kinds, pinned_rows, plain_fewest, plain_rank,
-                          plain_stands, plain_steps, plain_zeros, random_rows, rationed, sample_frames, tupled, wrong_row)
+                          plain_stands, plain_steps, plain_zeros, random_rows, rationed, sample_frames, tupled,
+                          wrong_row)
 
 THREE = Frame([(0, 0), (1, 0), (0, 1)], [(0, 1), (0, 2), (1, 2)])
 SQUARE = Frame([(0, 0), (1, 0), (1, 1), (0, 1)], [(0, 1), (1, 2), (2, 3), (0, 3)])
 # Of three points.
 WRONG_PINS = [None, True, 0, "", "01", {}, {0: 1}, {0, 1}, object(), Ratio(0), range(2), [1, 0], [0, 0], [0, 1, 1], [3],
-              [0, 3], [-1], [True], [False, 1], [0, True], [Ratio(0)], [0, Ratio(1)], ["0"], [[0]], (2, 1), (0, 0), [None],
+              [0, 3], [-1], [True], [False, 1], [0, True], [Ratio(0)], [0, Ratio(1)], ["0"], [[0]], (2, 1), (0, 0),
+              [None],
               [0, 10 ** 30], [(0, 1)], iter([0, 1])]
 
 
@@ -95,7 +97,8 @@ class MovesTest(Case):
         self.assertEqual(moves(Frame([(1, 2)], []), []), rationed([[1, 0], [0, 1]]))
         self.assertEqual(moves(Frame([(1, 2)], []), (0,)), [])
         loose = Frame([(1, 2)] * 5, [(0, 1), (3, 4)] * 4)
-        self.assertEqual([len(moves(loose, [])), len(moves(loose, [1, 4])), stands(loose, [0, 1, 2, 3, 4])], [10, 6, True])
+        self.assertEqual([len(moves(loose, [])), len(moves(loose, [1, 4])), stands(loose, [0, 1, 2, 3, 4])],
+                         [10, 6, True])
 
     def test_values_of_every_kind(self):
         good = [0, 0, 0, 2, -2, 0]
