@@ -35,8 +35,8 @@ def words_of(thing):
     if isinstance(thing, tuple):
         return f"room {{}} {thing[0]} " + (";".join(word_of(row) for row in thing[1]) or "none")
     if isinstance(thing, Frame):
-        return "frame {} " + " ".join(";".join(f"{a}:{b}" for a, b in part) or "none" for part in (thing.points(),
-                                                                                                   thing.bars()))
+        parts = [";".join(f"{a}:{b}" for a, b in part) or "none" for part in (thing.points(), thing.bars())]
+        return "frame {} " + " ".join(parts)
     return f"web {{}} {thing.size} " + (";".join(f"{i}:{j}" for i, j in thing.ties()) or "none")
 
 
@@ -131,12 +131,11 @@ class AnswersTest(Case):
                     ("left w", word_of(left_places(web))),
                     ("free p " + word_of(lot), "yes" if is_free(pairs, lot) else "no"),
                     ("rank p " + word_of(lot), str(lot_rank(pairs, lot))),
-                    ("matching w", str(matching_number(web))), ("barrier w " + word_of(left), str(barrier_worth(web,
-                                                                                                                left))),
+                    ("matching w", str(matching_number(web))),
+                    ("barrier w " + word_of(left), str(barrier_worth(web, left))),
                     ("fewest f", str(fewest_pins(frame))), ("many p", str(pairs.many)), ("many w", str(web.many)),
-                    ("many f", "3"),
-                    ("many r", str(len(room))), ("holds r " + word_of(rationed(row)), "yes" if is_held(size, room,
-                                                                                                       row) else "no")):
+                    ("many f", "3"), ("many r", str(len(room))),
+                    ("holds r " + word_of(rationed(row)), "yes" if is_held(size, room, row) else "no")):
                 self.assertEqual(desk.do(line), wanted, line)
 
     def test_long_numbers_are_told(self):

@@ -135,9 +135,9 @@ class WrittenTest(Case):
                           written("room", (0, [])), written("web", Web(4, [])), written("frame", Frame([], []))],
                          ["numbers\n", "numbers 0 -7 -1/3\n", "row\n", "lot\n", "lot 0 7\n", "parting\n", "room 3\n",
                           "room 0\n", "web 4\n", "frame\n"])
-        self.assertEqual([written("pairs", Pairs(0, [([], [])])), written("pairs", Pairs(2, [((1, 0), (Ratio(1, 2),
-                                                                                                       -1))]))],
-                         ["pairs 0\nfirst\nsecond\n", "pairs 2\nfirst 1 0\nsecond 1/2 -1\n"])
+        self.assertEqual(written("pairs", Pairs(0, [([], [])])), "pairs 0\nfirst\nsecond\n")
+        self.assertEqual(written("pairs", Pairs(2, [((1, 0), (Ratio(1, 2), -1))])),
+                         "pairs 2\nfirst 1 0\nsecond 1/2 -1\n")
         self.assertEqual(written("web", Web(3, [(0, 2), (1, 2), (0, 2)])), "web 3\ntie 0 2\ntie 1 2\ntie 0 2\n")
         self.assertEqual(written("frame", Frame([(0, Ratio(-1, 2)), (3, 4)], [(0, 1)])),
                          "frame\npoint 0 -1/2\npoint 3 4\nbar 0 1\n")
