@@ -8,11 +8,13 @@ DIGITS = "0123456789"
 # In texts and commands: so many numbers in a list, and so many places of a row and positions in a lot.
 MOST_NUMBERS = 40
 MOST_PLACES = 8
+# Python reads no INTEGER of many more digits, and no string that is passed is longer.
+MOST_DIGITS = 4000
 
 
 def read_count(word):
     """The COUNT that the word is written for; None if it is no COUNT."""
-    if word == "" or not all([sign in DIGITS for sign in word]):
+    if len(word) not in range(1, MOST_DIGITS + 1) or not all([sign in DIGITS for sign in word]):
         return None
     if word.startswith("0") and word != "0":
         return None

@@ -124,7 +124,7 @@ class CommandsTest(Case):
                     self.is_command(plain.replace(" ", "  ", 1), False, False)
 
     def test_no_commands(self):
-        for text in ["", " ", "x", "do", "claim", "claim k", "claim k atleast", "claim k more p 1",
+        for text in ["cut w " + "9" * 5000, "pairs p 1 " + "9" * 5000 + ":1", "", " ", "x", "do", "claim", "claim k", "claim k atleast", "claim k more p 1",
                      "claim k p atleast 1",
                      "claim k stands f 0:1", "claim k stands f 0 1", "claim k matches w -", "pairs p 2 1,0",
                      "pairs p 2",

@@ -135,6 +135,11 @@ class ReadTest(Case):
             spoil(read(text))
             self.assertEqual(repr(read(text=text)), answer)
 
+    def test_numbers_longer_than_any_string(self):
+        for text in ("row " + "9" * 5000 + "\n", "row 1/" + "9" * 5000 + "\n", "lot " + "9" * 5000 + "\n"):
+            self.fails(InvalidText, {"line": 1}, read, text)
+        self.assertEqual(read("row " + "9" * 3990 + "\n"), ("row", [Ratio(10 ** 3990 - 1)]))
+
     def test_long_numbers(self):
         long = Ratio(-(10 ** 1999) - 1, 10 ** 1999)
         self.assertEqual(read(written("row", [long])), ("row", [long]))
