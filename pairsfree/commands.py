@@ -31,7 +31,7 @@ NAMED = ("NEW", "ONE", "WEB", "FRAME", "ROOM", "OTHER", "NAME", "LABEL", "FRESH"
 
 def is_name(value):
     """Whether any value is a name: one to eight small letters and digits, the first one a letter."""
-    if not isinstance(value, str) or len(value) not in range(1, MOST_SIGNS + 1):
+    if not isinstance(value, str) or value == "" or len(value) > MOST_SIGNS:
         return False
     return value[0] in LETTERS and all([sign in LETTERS or sign in DIGITS for sign in value])
 

@@ -14,7 +14,7 @@ MOST_DIGITS = 4000
 
 def read_count(word):
     """The COUNT that the word is written for; None if it is no COUNT."""
-    if len(word) not in range(1, MOST_DIGITS + 1) or not all([sign in DIGITS for sign in word]):
+    if word == "" or len(word) > MOST_DIGITS or not all([sign in DIGITS for sign in word]):
         return None
     if word.startswith("0") and word != "0":
         return None
